@@ -1,0 +1,1 @@
+"""Ringstays: inlining with present bodies, and passes for every program."""

@@ -1,0 +1,52 @@
+"""The names and arguments of the interface, each defined in its own file."""
+
+import ast
+import inspect
+import unittest
+from importlib import import_module
+from pathlib import Path
+
+PACKAGE = Path(__file__).resolve().parent.parent / "ringstays"
+
+FUNCTIONS = {
+    "programs": ["Program(calls)", "callee(program, function, path)", "names(program, function, path)",
+                 "is_path(program, function, value)", "path_of(program, function, names)", "complete(count)",
+                 "ranked(order)"],
+    "bodies": ["Bodies(program, inlined=None)", "is_inlined(bodies, function, path)", "open_paths(bodies, function)",
+               "self_calls(bodies, function)", "copy_at(bodies, function, path)"],
+    "texts": ["write_bodies(bodies)", "read_bodies(text)"],
+    "steps": ["inlinable(bodies)", "inline_call(bodies, function, path, *, original=False)", "foldable(bodies)",
+              "fold_call(bodies, function, path, *, original=False)"],
+    "logs": ["apply_log(bodies, log)", "is_log(bodies, value)", "fold_log(bodies, log)", "copied(bodies, log)",
+             "backward(log)"],
+    "passes": ["is_pass(value)", "is_pass_list(value)", "open_to(bodies, function, callee)", "apply_pass(bodies, one)",
+               "pass_log(bodies, one)", "is_idle(bodies, one)", "run_passes(program, passes)",
+               "touch(first, second)"],
+    "cuts": ["cut(passes, functions)", "cut_program(program, functions)"],
+}
+
+METHODS = {"programs": {"Program": ["__eq__", "__init__", "__len__"]},
+           "bodies": {"Bodies": ["__eq__", "__init__", "size"]}}
+
+
+class Interface(unittest.TestCase):
+    def test_names_and_arguments(self):
+        for file, listed in FUNCTIONS.items():
+            module = import_module(f"ringstays.{file}")
+            for told in listed:
+                name, arguments = told.split("(", 1)
+                self.assertEqual(str(inspect.signature(getattr(module, name))), "(" + arguments, name)
+
+    def test_defined_in_their_files(self):
+        for file, listed in FUNCTIONS.items():
+            tree = ast.parse((PACKAGE / f"{file}.py").read_text())
+            defined = [node.name for node in tree.body if isinstance(node, (ast.FunctionDef, ast.ClassDef))]
+            for told in listed:
+                self.assertIn(told.split("(")[0], defined)
+
+    def test_methods_stand_in_their_classes(self):
+        for file, classes in METHODS.items():
+            for name, methods in classes.items():
+                held = vars(getattr(import_module(f"ringstays.{file}"), name))
+                for method in methods:
+                    self.assertIn(method, held)
