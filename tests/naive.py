@@ -109,3 +109,119 @@ def samples(seed, count, length=6):
 def chain(length):
     """The paths of 1 to `length` calls that take the call 0 alone."""
     return [(0,) * count for count in range(1, length + 1)]
+
+
+def visit(calls, sets, function):
+    found = [path for path in open_paths(calls, function, sets[function]) if end(calls, function, path) != function]
+    for path in found:
+        inline(calls, sets, function, path, "now")
+
+
+def walk(passes, function, path):
+    """The indices at which the calls are inlined, and a function (place, moment) that tells owners."""
+    taken = []
+
+    def owner(place, moment):
+        for at in reversed(taken[:place]):
+            if moment <= at:
+                mode, _, callee = passes[at]
+                return callee if mode == "now" else None
+        return function
+
+    for place, callee in enumerate(path):
+        fit = [k for k in range(len(passes)) if passes[k][2] == callee and passes[k][1] == owner(place, k)]
+        if not fit:
+            break
+        taken.append(fit[0])
+    return tuple(taken), owner
+
+
+def rows(passes):
+    """The row of each function, of passes of any kind."""
+    found = [[] for _ in range(8)]
+    for at, (mode, function, callee) in enumerate(passes):
+        ahead = sum(1 for one in passes[:at] if one[1] == callee)
+        found[function].append((callee, ahead if mode == "now" else 0))
+    return found
+
+
+def plain_rows(passes):
+    """Point [72], word by word."""
+    old = rows(passes)
+
+    def unrolled(callee, version):
+        count = 0
+        while count < version and old[callee][version - 1 - count][0] == callee:
+            count += 1
+        return count
+
+    groups = []
+    for row in old:
+        groups.append([])
+        for callee, version in row:
+            count = unrolled(callee, version) if version else 0
+            groups[-1].append([(callee, version - count)] + [(callee, 0)] * count)
+    found = []
+    for row in groups:
+        found.append([])
+        for (callee, kept), *more in row:
+            found[-1] += [(callee, sum(map(len, groups[callee][:kept])))] + more
+    return found
+
+
+def do_touch(first, second):
+    def all_of(one):
+        return {one[1], one[2]} if one[0] == "now" else {one[1]}
+    return first[1] in all_of(second) or second[1] in all_of(first)
+
+
+def linked(passes):
+    """All lists to which the list goes by a link."""
+    passes, found = list(passes), []
+    for at, (mode, function, callee) in enumerate(passes):
+        if function != callee and all(one[1] != callee for one in passes[:at]):
+            turned = "first" if mode == "now" else "now"
+            found.append(passes[:at] + [(turned, function, callee)] + passes[at + 1:])
+        if at and not do_touch(passes[at - 1], passes[at]):
+            found.append(passes[:at - 1] + [passes[at], passes[at - 1]] + passes[at + 1:])
+    return found
+
+
+def unroll_linked(passes):
+    """All lists to which the list goes by an unroll link."""
+    passes, found = list(passes), linked(passes)
+    for at, (mode, f, h) in enumerate(passes):
+        if mode != "now":
+            continue
+        two = [("first", h, h), ("now", f, h)]
+        three = [("now", f, h), ("first", f, h), ("first", h, h)]
+        if at and passes[at - 1:at + 1] == two:
+            found.append(passes[:at - 1] + three + passes[at + 1:])
+        if passes[at:at + 3] == three:
+            found.append(passes[:at] + two + passes[at + 3:])
+    return found
+
+
+def changed_a_bit(source, passes, functions, unroll):
+    """The list with a pass or two taken out, put in, turned or moved."""
+    passes = list(passes)
+    for _ in range(source.randint(1, 2)):
+        at = source.randrange(len(passes) + 1)
+        kind = source.randrange(4)
+        if kind == 0 or at == len(passes):
+            passes[at:at] = random_passes(source, 1, functions, unroll)
+        elif kind == 1:
+            del passes[at]
+        elif kind == 2 and passes[at][1] != passes[at][2]:
+            passes[at] = ("first" if passes[at][0] == "now" else "now",) + passes[at][1:]
+        else:
+            passes.insert(source.randrange(len(passes)), passes.pop(at))
+    return passes
+
+
+def led_on(source, passes, count, most, links):
+    """The list behind so many links taken by chance, through lists of at most so many passes."""
+    for _ in range(count):
+        ways = [other for other in links(passes) if len(other) <= most]
+        passes = source.choice(ways) if ways else passes
+    return list(passes)

@@ -23,6 +23,18 @@ FUNCTIONS = {
                "pass_log(bodies, one)", "is_idle(bodies, one)", "run_passes(program, passes)",
                "touch(first, second)"],
     "cuts": ["cut(passes, functions)", "cut_program(program, functions)"],
+    "visits": ["visit(bodies, function)", "run_visits(program, order)"],
+    "walks": ["moments(passes, function, path)", "is_inlined_at(passes, function, path)",
+              "is_open_at(passes, function, path)", "owner(passes, function, path, index)",
+              "standing(passes, function, index)", "body_on(passes, function, most)",
+              "line(passes, function, callee)"],
+    "versions": ["versions(passes)", "equal_lists(one, other)"],
+    "links": ["is_link(one, other)", "is_chain(one, other, value)", "chain(one, other)"],
+    "separation": ["parting_group(one, other)", "separation(one, other)", "is_separation(one, other, value)",
+                   "separating_program(one, other)"],
+    "unrolling": ["unrolled_rows(passes)", "equal_unrolled(one, other)", "first_difference(one, other)"],
+    "normals": ["is_normal(value)", "normal(passes)"],
+    "unlinks": ["is_unroll_link(one, other)", "is_unroll_chain(one, other, value)", "unroll_chain(one, other)"],
 }
 
 METHODS = {"programs": {"Program": ["__eq__", "__init__", "__len__"]},
