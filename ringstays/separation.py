@@ -43,8 +43,8 @@ def separation(one, other):
 def _separation_in(one, other, group):
     """A separation that comes to functions of the group alone, to which the cut lists are not equal."""
     first, second, copies = _numbered_rows(cut(one, group), cut(other, group))
-    function = min([function for function in group if first[function] != second[function]])
-    return function, tuple(_word(copies, first[function], second[function]))
+    parted = min([function for function in group if first[function] != second[function]])
+    return parted, tuple(_word(copies, first[parted], second[parted]))
 
 
 def _numbered_rows(one, other):
