@@ -44,9 +44,9 @@ def check_function(program, function):
         raise InvalidFunction(function)
 
 
-def led_to(program, function, value):
-    """The function to which the path leads, and None for a value that is no path from the function."""
-    if not isinstance(value, tuple) or len(value) > MOST_CALLS:
+def led_to(program, function, value, most=MOST_CALLS):
+    """The function to which the path leads, and None for a value that is no path of at most so many calls."""
+    if not isinstance(value, tuple) or len(value) > most:
         return None
     for call in value:
         row = program.calls[function]

@@ -18,6 +18,12 @@ def _check_unrolling(passes):
             raise Unrolling(at)
 
 
+def check_one_list(passes):
+    """Raise what is due unless this is a pass list without unrolling."""
+    check_passes(passes)
+    _check_unrolling(passes)
+
+
 def check_two_lists(one, other):
     """Raise what is due unless both are pass lists without unrolling."""
     check_both(one, other)
@@ -36,8 +42,7 @@ def rows_of(passes):
 
 def versions(passes):
     """The row of entries (callee, version) of each function from 0 to 7."""
-    check_passes(passes)
-    _check_unrolling(passes)
+    check_one_list(passes)
     return rows_of(passes)
 
 

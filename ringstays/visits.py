@@ -28,11 +28,12 @@ def _rows_visited(program, inlined, function):
 
 
 def check_visits(order):
-    if not _is_row_of_visits(order):
+    if not is_row_of_visits(order):
         raise InvalidVisits(order)
 
 
-def _is_row_of_visits(value):
+def is_row_of_visits(value):
+    """Whether any value is a row of visits."""
     return is_list(value) and len(value) <= MOST_VISITS and all([is_any_function(function) for function in value])
 
 

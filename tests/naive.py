@@ -225,3 +225,95 @@ def led_on(source, passes, count, most, links):
         ways = [other for other in links(passes) if len(other) <= most]
         passes = source.choice(ways) if ways else passes
     return list(passes)
+
+
+def random_bodies(source, program, most):
+    """Bodies of which many are not reachable: paths are inlined one by one, with nothing behind them."""
+    sets = [set() for _ in program.calls]
+    for function, paths in enumerate(sets):
+        for _ in range(source.randint(0, most)):
+            found = open_paths(program.calls, function, paths)
+            if found:
+                paths.add(source.choice(found[-3:] if source.random() < 0.5 else found))
+    return bodies_of(program, sets)
+
+
+def last_changes(calls, function, paths):
+    """All last changes of a body, by the words of point [81]."""
+    found = []
+    for callee in range(len(calls)):
+        ends = [path for path in paths if end(calls, function, path) == callee]
+        calls_open = [path for path in open_paths(calls, function, paths) if end(calls, function, path) == callee]
+        for part in {tuple(sorted(copy(paths, path))) for path in ends}:
+            fit = [path for path in ends if tuple(sorted(copy(paths, path))) == part]
+            if callee == function or (callee,) in part:
+                continue
+            if all(any(len(path) < len(call) and call[:len(path)] == path for path in fit) for call in calls_open):
+                found.append((callee, part))
+    return found
+
+
+def peeled(calls, function, paths, change):
+    """The paths of a body that are left without a last change."""
+    callee, part = change
+    fit = [path for path in paths
+           if end(calls, function, path) == callee and tuple(sorted(copy(paths, path))) == part]
+    return {path for path in paths if not any(path[:len(one)] == one for one in fit)}
+
+
+def jumps(calls, sets, cycle):
+    """The lengths of the jumps from the places of a cycle, by the words of point [101]."""
+    function, path = cycle
+    found = []
+    for at in range(len(path)):
+        standing = end(calls, function, path[:at])
+        length = 1
+        while tuple(path[(at + step) % len(path)] for step in range(length)) in sets[standing]:
+            length += 1
+        found.append(length)
+    return found
+
+
+def random_cycle(source, calls, most):
+    """A cycle of some program, or None: a walk by chance that comes back, without its repetitions."""
+    function = standing = source.randrange(len(calls))
+    path, places = (), []
+    while len(path) < most and calls[standing]:
+        call = source.randrange(len(calls[standing]))
+        places.append((standing, call))
+        path += (call,)
+        standing = calls[standing][call]
+        if standing == function and source.random() < 0.3:
+            break
+    if not path or standing != function:
+        return None
+    for length in range(1, len(path) + 1):
+        if len(path) % length == 0 and places == places[:length] * (len(path) // length):
+            return function, path[:length]
+
+
+def next_conflicts(calls, sets, function, path):
+    """By the words of point [103]."""
+    callee = end(calls, function, path)
+    part, present = copy(sets[function], path) if path else sets[function], sets[callee]
+    found = set()
+    for way in part ^ present:
+        if all(way[:length] in part & present for length in range(1, len(way))):
+            found.add((function, path + way) if way in part else (callee, way))
+    return sorted(found)
+
+
+def folded(calls, sets, group=()):
+    """What is left when paths are folded as long as any can be, with the original bodies of a group kept."""
+    sets = [set(paths) for paths in sets]
+    done = False
+    while not done:
+        done = True
+        for function, paths in enumerate(sets):
+            for path in sorted(paths, reverse=True):
+                callee = end(calls, function, path)
+                part = copy(paths, path)
+                if part == sets[callee] or (not part and callee in group):
+                    paths -= {path} | {path + other for other in part}
+                    done = False
+    return sets

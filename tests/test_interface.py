@@ -35,6 +35,15 @@ FUNCTIONS = {
     "unrolling": ["unrolled_rows(passes)", "equal_unrolled(one, other)", "first_difference(one, other)"],
     "normals": ["is_normal(value)", "normal(passes)"],
     "unlinks": ["is_unroll_link(one, other)", "is_unroll_chain(one, other, value)", "unroll_chain(one, other)"],
+    "peeling": ["last_change(bodies, function)", "peel(bodies, function)", "read_row(bodies, function)"],
+    "reading": ["passes_from(bodies)", "is_passes_from(bodies, value)"],
+    "needs": ["needed(passes, function)", "least_list(passes, function)", "same_body(one, other, function)"],
+    "acyclic": ["is_acyclic(program)", "cycle_in(program)"],
+    "orders": ["equal_acyclic(one, other, count)", "is_acyclic_separation(one, other, count, value)"],
+    "towers": ["tower(count)", "equal_visits(one, other)", "visits_separation(one, other)"],
+    "cycles": ["is_cycle(program, value)"],
+    "jumps": ["jumps(bodies, cycle)", "jump_cycles(bodies, cycle)", "one_cycle(bodies, cycle)"],
+    "conflicts": ["next_conflicts(bodies, function, path)", "conflict_cycle(bodies)"],
 }
 
 METHODS = {"programs": {"Program": ["__eq__", "__init__", "__len__"]},
