@@ -107,11 +107,11 @@ def cycles_of_jumps(lengths):
             seen[place] = start
             place = (place + lengths[place]) % count
         if seen[place] == start:
-            found.append(_round_from(lengths, place))
+            found.append(cycle_of_jumps(lengths, place))
     return sorted(found)
 
 
-def _round_from(lengths, start):
+def cycle_of_jumps(lengths, start):
     """The cycle of jumps (places, rounds) with this place."""
     places, total, place = [start], lengths[start], start
     while (start + total) % len(lengths) != start:
