@@ -8,8 +8,6 @@ from ringstays.releases import still_inlined, with_present
 from ringstays.values import is_any_function, is_any_path, is_list
 
 MOST_DEEDS = 400
-UNDOING = {"fold": True, "back": False}
-DOING = {"inline": True, "release": False}
 
 
 def undoable(releases):
@@ -52,21 +50,21 @@ def _copy_in(row, at):
 
 def undo(releases, step):
     """The Releases behind an undoing step."""
-    if not _is_told(step, UNDOING):
+    if not _is_told(step, "fold", "back"):
         raise InvalidStep(step)
     if step not in undoable(releases):
         raise NotUndoable(step)
     return _undone_by(releases, step)
 
 
-def _is_told(value, kinds):
-    """Whether any value is a tuple of a kind, a function and what the kind has: a path or the empty tuple."""
+def _is_told(value, with_path, without):
+    """Whether any value is a tuple of one of two kinds, a function, and a path or the empty tuple."""
     if not isinstance(value, tuple) or len(value) != 3:
         return False
     kind, function, path = value
-    if not isinstance(kind, str) or kind not in kinds or not is_any_function(function):
+    if not is_any_function(function):
         return False
-    return is_any_path(path) if kinds[kind] else isinstance(path, tuple) and path == ()
+    return is_any_path(path) if kind == with_path else kind == without and path == ()
 
 
 def _undone_by(releases, step):
@@ -111,7 +109,7 @@ def history(releases):
 def replay(program, versions, deeds):
     """The Releases that the deeds make, in order, from the start."""
     check_versions(program, versions)
-    if not is_list(deeds) or len(deeds) > MOST_DEEDS or not all([_is_told(deed, DOING) for deed in deeds]):
+    if not is_list(deeds) or len(deeds) > MOST_DEEDS or not all([_is_deed(deed) for deed in deeds]):
         raise InvalidDeeds(deeds)
     releases = start(program, versions)
     for at, deed in enumerate(deeds):
@@ -120,6 +118,10 @@ def replay(program, versions, deeds):
         except InlineError:
             raise Stopped(at, releases) from None
     return releases
+
+
+def _is_deed(value):
+    return _is_told(value, "inline", "release")
 
 
 def _done(releases, deed):

@@ -44,10 +44,29 @@ FUNCTIONS = {
     "cycles": ["is_cycle(program, value)"],
     "jumps": ["jumps(bodies, cycle)", "jump_cycles(bodies, cycle)", "one_cycle(bodies, cycle)"],
     "conflicts": ["next_conflicts(bodies, function, path)", "conflict_cycle(bodies)"],
+    "reaching": ["is_reachable(bodies)", "is_witness(bodies, value)", "witness(bodies)", "folded(bodies)",
+                 "fold_out(bodies)", "reach(bodies)"],
+    "keeping": ["foldable_kept(bodies, group)", "folded_kept(bodies, group)", "is_reachable_kept(bodies, group)",
+                "is_kept_log(bodies, group, value)", "reach_kept(bodies, group)"],
+    "groups": ["least_groups(bodies)", "too_small(bodies)", "needed_originals(bodies)", "components(program)",
+               "within(bodies, component)"],
+    "numbers": ["is_refutation(bodies, group, value)", "refutation(bodies, group)"],
+    "releases": ["Releases(program, versions, now, inlined=None)", "start(program, versions)",
+                 "open_release(releases, function)", "inline_release(releases, function, path)",
+                 "release(releases, function)"],
+    "rollbacks": ["undoable(releases)", "undo(releases, step)", "undone(releases)", "is_possible(releases)",
+                  "history(releases)", "replay(program, versions, deeds)"],
+    "meets": ["is_successor(upper, lower)", "between(lower, upper)", "meet(one, other)"],
+    "joins": ["join_defect(parts)", "is_join_defect(parts, value)", "Join(parts)"],
 }
 
 METHODS = {"programs": {"Program": ["__eq__", "__init__", "__len__"]},
-           "bodies": {"Bodies": ["__eq__", "__init__", "size"]}}
+           "bodies": {"Bodies": ["__eq__", "__init__", "size"]},
+           "releases": {"Releases": ["__eq__", "__init__"]},
+           "joins": {"Join": ["__init__", "is_inlined", "lands", "bodies"]}}
+
+ARGUMENTS = {"is_inlined": "(self, function, path)", "lands": "(self, function, path)", "bodies": "(self, most)",
+             "size": "(self)"}
 
 
 class Interface(unittest.TestCase):
@@ -71,3 +90,5 @@ class Interface(unittest.TestCase):
                 held = vars(getattr(import_module(f"ringstays.{file}"), name))
                 for method in methods:
                     self.assertIn(method, held)
+                    if method in ARGUMENTS:
+                        self.assertEqual(str(inspect.signature(held[method])), ARGUMENTS[method])

@@ -74,7 +74,7 @@ class Errors(Case):
         self.assertIsNone(join_defect([long(118)]))
         self.assertEqual(Join([long(118)]).bodies(119), long(118))
         # Just 120 together, and too many ahead of any defect.
-        self.assertEqual(join_defect([ONE, long(118)])[1], [[0], [1]])
+        self.assertEqual(sorted(join_defect([ONE, long(118)])[1]), [[0], [1]])
         self.assertIsNone(join_defect([long(58), long(58), OTHER]))
 
     def test_no_join(self):

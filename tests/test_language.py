@@ -214,6 +214,17 @@ class Statements(unittest.TestCase):
                 if isinstance(node, ast.Call) and isinstance(node.func, ast.Attribute):
                     self.assertIn(node.func.attr, allowed, f"{path} {node.lineno}")
 
+    def test_lists_and_dicts_at_module_level_are_only_read(self):
+        for path, tree in trees():
+            kept = {target.id for row in tree.body if isinstance(row, ast.Assign) for target in row.targets
+                    if isinstance(row.value, (ast.List, ast.Dict))}
+            above = {child: node for node in ast.walk(tree) for child in ast.iter_child_nodes(node)}
+            for node in ast.walk(tree):
+                if isinstance(node, ast.Name) and node.id in kept and isinstance(node.ctx, ast.Load):
+                    over = above[node]
+                    self.assertIsInstance(over, (ast.Subscript, ast.Compare, ast.For, ast.comprehension, ast.Attribute),
+                                          f"{path} {node.lineno}")
+
     def test_handlers_name_own_errors(self):
         own = {node.name for node in ast.parse((PACKAGE / "errors.py").read_text()).body
                if isinstance(node, ast.ClassDef)}

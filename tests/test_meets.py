@@ -79,12 +79,22 @@ class Successors(Case):
         reached = callee(lower.program, function, path)
         self.assertFalse(low[reached] <= set(copy_at(upper, function, path)))
 
+    def check_no_gap(self, lower, upper):
+        low, high = naive.sets_of(lower), naive.sets_of(upper)
+        for function, paths in enumerate(high):
+            for path in [(), *paths]:
+                landed = naive_bodies.landings(lower.program.calls, low, function, path)
+                if path == () or len(path) in landed:
+                    reached = callee(lower.program, function, path)
+                    self.assertTrue(low[reached] <= set(copy_at(upper, function, path)))
+
     def check(self, lower, upper, right):
         self.assertIs(is_successor(upper, lower), right)
         if right:
             log = between(lower, upper)
             self.assertEqual([type(log), {mode for _, _, mode in log} - {"now"}], [list, set()])
             self.assertEqual(apply_log(lower, log), upper)
+            self.check_no_gap(lower, upper)
             self.assertEqual(between(Bodies(lower.program, lower.inlined), upper), log)
         else:
             with self.assertRaises(NotBlocks) as caught:
