@@ -96,9 +96,8 @@ def is_join_defect(parts, value):
     if not is_cycle(parts[0].program, cycle) or not is_list(lists) or len(lists) != len(parts):
         return False
     for told, right in zip(lists, _lists_on(_places_of(parts), cycle)):
-        if not is_list(told) or len(told) != len(right):
-            return False
-        if not all([is_integer(place) for place in told]) or list(told) != right:
+        # True equals 1 to Python, but is no place.
+        if not is_list(told) or not all([is_integer(place) for place in told]) or list(told) != right:
             return False
     return not _have_common(lists)
 

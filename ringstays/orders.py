@@ -3,7 +3,8 @@
 from itertools import permutations
 
 from ringstays.errors import InvalidCount, SmallCount
-from ringstays.values import is_list, is_within
+from ringstays.programs import is_order
+from ringstays.values import is_within
 from ringstays.versions import check_both
 from ringstays.walks import inlines
 
@@ -41,16 +42,9 @@ def is_acyclic_separation(one, other, count, value):
     if not isinstance(value, tuple) or len(value) != 3:
         return False
     order, function, names = value
-    if not _is_order(order, count) or not is_within(function, 0, count - 1):
+    if not is_order(order) or len(order) != count or not is_within(function, 0, count - 1):
         return False
     return _is_row_along(order, function, names) and _parts(one, other, function, names)
-
-
-def _is_order(value, count):
-    if not is_list(value) or len(value) != count:
-        return False
-    # What is no integer may not be fit for sorting, so this is asked first.
-    return all([is_within(function, 0, count - 1) for function in value]) and len(set(value)) == count
 
 
 def _is_row_along(order, function, value):

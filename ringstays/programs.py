@@ -116,7 +116,7 @@ def complete(count):
 
 def ranked(order):
     """The program in which each function calls those that stand behind it in the order."""
-    if not _is_order(order):
+    if not is_order(order):
         raise InvalidOrder(order)
     calls = [[] for _ in order]
     for at, function in enumerate(order):
@@ -124,7 +124,8 @@ def ranked(order):
     return Program(calls)
 
 
-def _is_order(value):
+def is_order(value):
+    """Whether any value is a list of the functions from 0 on, up to some one, each once."""
     if not is_list(value) or not 1 <= len(value) <= MOST_FUNCTIONS:
         return False
     if not all([is_integer(function) for function in value]):

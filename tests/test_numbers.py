@@ -139,7 +139,7 @@ class Refutations(Case):
             self.assertIs(is_refutation(bodies=bodies, group=[], value=value), True)
         top, behind = right[0]
         wrong = NO_LISTS + [[], right[:1], right + [[]], [right[0], right[1][::-1]], [right[0], right[1][:1]],
-                            [right[0], right[1] + [((0, 0), 4)]], [right[0], {}], [[top], right[1]],
+                            [right[0], right[1] + [((0, 0), 4)]], [right[0], {}], [right[0], None], [right[0], 2], [None, right[1]], [[top], right[1]],
                             [[[(), 0], behind], right[1]], [[((), 0, 0), behind], right[1]],
                             [[([], 0), behind], right[1]], [[top, ([0], 1)], right[1]], [[top, ((1,), 1)], right[1]],
                             [[((), -1), behind], right[1]], [[top, ((False,), 1)], right[1]], [[top, top], right[1]],
