@@ -10,7 +10,7 @@ def is_acyclic(program):
 
 def cycle_in(program):
     """A function and a path that leads back to it, None if the program is acyclic."""
-    functions = find_cycle(range(len(program)), lambda function: list(program.calls[function]))
+    functions = find_cycle(list(range(len(program))), lambda function: list(program.calls[function]))
     if functions is None:
         return None
     behind = functions[1:] + functions[:1]

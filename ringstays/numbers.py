@@ -77,7 +77,8 @@ def refutation(bodies, group):
         return None
     numbers = {}
     for function in group:
-        numbers[(function, *bodies.program.calls[function])] = function
+        key = (function, *bodies.program.calls[function])
+        numbers[key] = function
     # What is left can be folded no further, so none of its places gets the number of a top.
     _number_places(Places(bodies.program, folder.rows), numbers)
     places = Places(bodies.program, bodies.inlined)

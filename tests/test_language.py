@@ -43,6 +43,146 @@ def trees():
     return [(path, ast.parse(path.read_text())) for path in files()]
 
 
+VIEWS = ("items", "keys", "values")
+ONCE = ("range", "zip", "enumerate", "reversed", "map", "product", "combinations", "permutations", "chain",
+        "accumulate", "pairwise", "islice", "zip_longest")
+TAKES_ONE = ("list", "tuple", "dict", "sorted", "sum", "any", "all", "enumerate", "min", "max", "deque")
+TAKES_RANGE = ("len", "reversed", "zip", "product", "combinations", "permutations")
+
+
+def above_in(tree):
+    """The node right above each node."""
+    return {child: node for node in ast.walk(tree) for child in ast.iter_child_nodes(node)}
+
+
+def iterator_of(node):
+    """The name of what the node makes that is to be iterated at once, None for any other node."""
+    if not isinstance(node, ast.Call):
+        return None
+    if isinstance(node.func, ast.Name) and node.func.id in ONCE:
+        return node.func.id
+    if isinstance(node.func, ast.Attribute) and node.func.attr in VIEWS:
+        return node.func.attr
+    return None
+
+
+def is_iterated_at_once(node, over):
+    """Whether the node right above an iterator iterates it on the spot; a name that keeps one does not."""
+    kind = iterator_of(node)
+    if isinstance(over, (ast.For, ast.comprehension)):
+        return node is over.iter
+    if isinstance(over, ast.Compare):
+        asked = node is over.comparators[-1] and isinstance(over.ops[-1], (ast.In, ast.NotIn))
+        return asked and kind in ("range", "keys")
+    if not isinstance(over, ast.Call) or node not in over.args:
+        return False
+    if isinstance(over.func, ast.Attribute):
+        return over.func.attr == "join" and isinstance(over.func.value, ast.Constant)
+    if not isinstance(over.func, ast.Name):
+        return False
+    if over.func.id in ("min", "max"):
+        return len(over.args) == 1
+    if over.func.id in TAKES_ONE:
+        return node is over.args[0]
+    if over.func.id == "zip":
+        return kind in ("range", "zip", "enumerate", "reversed") + VIEWS
+    return over.func.id in TAKES_RANGE and (kind == "range" or over.func.id == "len" and kind in VIEWS)
+
+
+def kept_iterators(tree):
+    """The lines with a range, zip, enumerate, reversed or view that is kept or passed on (L23)."""
+    above = above_in(tree)
+    return sorted(node.lineno for node in above if iterator_of(node) and not is_iterated_at_once(node, above[node]))
+
+
+def stars_in_indexes(tree):
+    """The lines with a star anywhere within the brackets of an index (L7)."""
+    return sorted(star.lineno for star in {star for node in ast.walk(tree) if isinstance(node, ast.Subscript)
+                                           for star in ast.walk(node.slice) if isinstance(star, ast.Starred)})
+
+
+CHANGES = ("append", "clear", "extend", "insert", "pop", "remove", "reverse", "setdefault", "update", "sort", "popleft",
+           "appendleft", "extendleft", "rotate", "add", "discard")
+
+
+def iterated_names(node):
+    """The texts of all names and attributes that an iterable goes over, also through enumerate, zip and views."""
+    if isinstance(node, (ast.Name, ast.Attribute)):
+        return {ast.unparse(node)}
+    if isinstance(node, ast.Call) and isinstance(node.func, ast.Attribute) and node.func.attr in VIEWS:
+        return iterated_names(node.func.value)
+    if iterator_of(node) in ("enumerate", "zip", "reversed"):
+        return set().union(*[iterated_names(one) for one in node.args])
+    if isinstance(node, (ast.BoolOp, ast.IfExp)):
+        parts = node.values if isinstance(node, ast.BoolOp) else [node.body, node.orelse]
+        return set().union(*[iterated_names(one) for one in parts])
+    return set()
+
+
+def changed_by(node):
+    """The texts of what a node changes by a method, an item or del."""
+    if isinstance(node, ast.Call) and isinstance(node.func, ast.Attribute) and node.func.attr in CHANGES:
+        yield ast.unparse(node.func.value)
+    if isinstance(node, ast.Subscript) and not isinstance(node.ctx, ast.Load):
+        yield ast.unparse(node.value)
+    if isinstance(node, ast.AugAssign):
+        yield ast.unparse(node.target)
+
+
+def changed_while_iterated(tree):
+    """The lines that change what a loop around them iterates over (L23)."""
+    found = []
+    for loop in ast.walk(tree):
+        if isinstance(loop, ast.For):
+            names = iterated_names(loop.iter)
+            found += [inner.lineno for row in loop.body for inner in ast.walk(row)
+                      for text in changed_by(inner) if text in names]
+    return sorted(found)
+
+
+def wrong_keywords(tree):
+    """The lines that pass a keyword to a builtin or to a method of a builtin value that may not have it (L22)."""
+    allowed = {"sorted": ("key", "reverse"), "min": ("key", "default"), "max": ("key", "default"), "sum": ("start",),
+               "enumerate": ("start",), "zip": ("strict",)}
+    return sorted(node.lineno for node in ast.walk(tree) if isinstance(node, ast.Call)
+                  for keyword in node.keywords
+                  if isinstance(node.func, ast.Name) and node.func.id in PYTHON_NAMES
+                  and keyword.arg not in allowed.get(node.func.id, ())
+                  or isinstance(node.func, ast.Attribute) and node.func.attr in BUILTIN_METHODS)
+
+
+def stray_sets(tree):
+    """The lines with a set that stands anywhere but in sorted(..), len(..) or behind in (L24)."""
+    above, found = above_in(tree), []
+    for node in above:
+        made = isinstance(node, ast.Call) and isinstance(node.func, ast.Name) and node.func.id in ("set", "frozenset")
+        if made or isinstance(node, (ast.Set, ast.SetComp)):
+            over = above[node]
+            kept = isinstance(over, ast.Call) and isinstance(over.func, ast.Name) and over.func.id in ("sorted", "len")
+            behind = isinstance(over, ast.Compare) and isinstance(over.ops[-1], (ast.In, ast.NotIn))
+            if not (kept and not over.keywords) and not behind:
+                found.append(node.lineno)
+    return sorted(found)
+
+
+def wrong_defaults(tree):
+    """The lines of functions with a default that is not plain (L4)."""
+    def is_plain(node):
+        if isinstance(node, ast.UnaryOp):
+            return isinstance(node.op, ast.USub) and isinstance(node.operand, ast.Constant)
+        if isinstance(node, ast.Tuple):
+            return all(map(is_plain, node.elts))
+        return isinstance(node, (ast.Constant, ast.Name))
+    return sorted(node.lineno for node in ast.walk(tree) if isinstance(node, ast.arguments)
+                  for node in node.defaults + [one for one in node.kw_defaults if one] if not is_plain(node))
+
+
+def wrong_powers(tree):
+    """The lines with an exponent that is not a literal from 0 to 64 (L27)."""
+    return sorted(node.lineno for node in ast.walk(tree) if isinstance(node, ast.BinOp) and isinstance(node.op, ast.Pow)
+                  and not (isinstance(node.right, ast.Constant) and 0 <= node.right.value <= 64))
+
+
 def bound_names(tree):
     """All names that are bound anywhere in a file, with the nodes that bind them."""
     for node in ast.walk(tree):
@@ -175,6 +315,59 @@ class Names(unittest.TestCase):
                     self.assertIn(node.id, BUILTINS, f"{path} {node.lineno}")
 
 
+# For each of these judges rows that it takes and rows that it does not.
+JUDGED = [
+    (kept_iterators,
+     ["for a in range(3): pass", "b = list(range(3))", "b = [a for a in zip(c, range(3))]", "b = len(range(3))",
+      "for a in reversed(range(3)): pass", "b = sorted(d.items())", "b = k in d.keys()", "b = a in range(3)",
+      "b = ', '.join(d.values())", "for a, (b, c) in enumerate(zip(d, e)): pass", "b = max(range(3))",
+      "b = list(combinations(range(3), 2))", "b = len(d.items())", "b = dict(zip(c, d))", "f(list(range(3)))",
+      "f(a=[b for b in d.items()])", "for a in zip(c, d.values()): pass"],
+     ["find_cycle(range(3), c)", "f(a=range(3))", "f(*range(3))", "self.f(1, zip(a, b))", "f(enumerate(a))",
+      "f(reversed(a))", "f(d.items())", "f(d.keys())", "f(d.values())", "box.f(range(3))", "b = f(range(3))[0]",
+      "f(g(range(3)))", "f([range(3)])", "f(lambda a: range(a))", "b = range(3)", "return_ = (range(3), 1)",
+      "for b in reversed(zip(a, c)): pass", "b = len(zip(a, c))", "b = zip(a, c) == d", "b = a in d.values()", "b = set(range(3))",
+      "xs.extend(range(3))", "b = min(range(3), a)", "b = sum(a, range(3))", "b = a.join(d.keys())", "f(map(str, a))",
+      "def f(a):\n return range(a)", "b = f(permutations(a))"]),
+    (stars_in_indexes,
+     ["b = a[c]", "b = (*a, 1)", "b = [*a][0]", "key = (c, *a)\nd[key] = 1", "f(*a)[0]", "d.get((1, *a))"],
+     ["d[(1, *a)] = 1", "b = d[*a]", "b = d[1, *a]", "del d[(1, *a)]", "d[((*a, 1), 2)] += 1", "b = d[f(*a)]",
+      "b = d[[*a][0]]", "b = d[e[(*a, 1)]]", "b = a[(*c,):]"]),
+    (changed_while_iterated,
+     ["for a in list(b): b.append(a)", "for a in b: c.append(a)", "for a in b:\n c[a] = 1", "for a in b.c: b.d.pop()"],
+     ["for a in b: b.append(a)", "for a in b:\n b[a] = 1", "for a, c in enumerate(b): b.pop()",
+      "for a, c in b.items():\n del b[a]", "for a in b.c: b.c.append(a)", "for a in b or c: c.clear()",
+      "for a, d in zip(b, c):\n if a:\n  c[a] += 1", "for a in b:\n b += [a]"]),
+    (wrong_keywords,
+     ["sorted(a, key=len, reverse=True)", "max(a, default=0)", "f(key=1)", "zip(a, b, strict=True)", "a.f(b=1)"],
+     ["list(a=1)", "sum(a, key=b)", "a.split(sep=b)", "a.index(b, at=1)", "sorted(a, by=1)"]),
+    (stray_sets,
+     ["b = sorted(set(a))", "b = len({c for c in a})", "b = a in {1, 2}"],
+     ["b = set(a)", "for b in set(a): pass", "f({1, 2})", "b = frozenset(a)", "b = sorted(set(a), reverse=True)"]),
+    (wrong_defaults,
+     ["def f(a=1, *, b=None, c=(), d=(0, -1), e=LIMIT): pass", "f(lambda a: a)"],
+     ["def f(a=[]): pass", "def f(*, a={}): pass", "def f(a=g()): pass", "def f(a=(1, [])): pass"]),
+    (wrong_powers, ["b = 2 ** 16", "b = a ** 2"], ["b = 2 ** a", "b = 2 ** 65", "b = 2 ** (1 + 1)"]),
+]
+
+
+class Judges(unittest.TestCase):
+    def test_the_package(self):
+        for judge, _, _ in JUDGED:
+            for path, tree in trees():
+                self.assertEqual(judge(tree), [], f"{path} {judge.__name__}")
+
+    def test_what_they_take(self):
+        for judge, good, _ in JUDGED:
+            for text in good:
+                self.assertEqual(judge(ast.parse(text)), [], text)
+
+    def test_what_they_see(self):
+        for judge, _, bad in JUDGED:
+            for text in bad:
+                self.assertEqual(len(judge(ast.parse(text))), 1, text)
+
+
 class Statements(unittest.TestCase):
     def methods(self):
         return {item.name for _, tree in trees() for node in ast.walk(tree) if isinstance(node, ast.ClassDef)
@@ -218,7 +411,7 @@ class Statements(unittest.TestCase):
         for path, tree in trees():
             kept = {target.id for row in tree.body if isinstance(row, ast.Assign) for target in row.targets
                     if isinstance(row.value, (ast.List, ast.Dict))}
-            above = {child: node for node in ast.walk(tree) for child in ast.iter_child_nodes(node)}
+            above = above_in(tree)
             for node in ast.walk(tree):
                 if isinstance(node, ast.Name) and node.id in kept and isinstance(node.ctx, ast.Load):
                     over = above[node]
