@@ -61,7 +61,7 @@ def needed_originals(bodies):
 
 def components(program):
     """The ascending list of the components of the program."""
-    reached = [_led_to(program, function) for function in range(len(program))]
+    reached = [all_led_to(program, function) for function in range(len(program))]
     found = []
     for function, others in enumerate(reached):
         component = [other for other in others if function in reached[other]]
@@ -70,7 +70,7 @@ def components(program):
     return found
 
 
-def _led_to(program, function):
+def all_led_to(program, function):
     """The ascending list of the functions to which paths from the function lead that are not empty."""
     met = {}
     rest = [function]

@@ -7,7 +7,7 @@ places [places.py].
 from ringstays.bodies import bodies_of
 from ringstays.errors import NotBlocks, OtherProgram
 from ringstays.folding import Folder
-from ringstays.places import Places
+from ringstays.places import Places, is_part
 from ringstays.reaching import check_reachable
 
 
@@ -45,22 +45,9 @@ def _landings(lower, upper):
 def _gap(lower, upper):
     """A place of upper at which lower lands and not all is inlined that lower's body has, None if there is none."""
     for place in _landings(lower, upper):
-        if not _is_part(lower, upper, place):
+        if not is_part(lower, upper, place):
             return place
     return None
-
-
-def _is_part(lower, upper, place):
-    """Whether all that is inlined in lower's body of the function at a place of upper is so behind this place."""
-    pairs = [(lower.tops[upper.standing[place]], place)]
-    while pairs:
-        low, high = pairs.pop()
-        for low_behind, high_behind in zip(lower.leads[low], upper.leads[high]):
-            if not lower.at_top[low_behind]:
-                if upper.at_top[high_behind]:
-                    return False
-                pairs.append((low_behind, high_behind))
-    return True
 
 
 def between(lower, upper):

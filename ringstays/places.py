@@ -48,3 +48,16 @@ def shapes_of(places):
         parts = [-1 if places.at_top[behind] else shapes[behind] for behind in places.leads[place]]
         shapes[place] = numbers.setdefault((places.standing[place], *parts), len(numbers))
     return shapes
+
+
+def is_part(lower, upper, place):
+    """Whether all that is inlined in lower's body of the function at a place of upper is so behind this place."""
+    pairs = [(lower.tops[upper.standing[place]], place)]
+    while pairs:
+        low, high = pairs.pop()
+        for low_behind, high_behind in zip(lower.leads[low], upper.leads[high]):
+            if not lower.at_top[low_behind]:
+                if upper.at_top[high_behind]:
+                    return False
+                pairs.append((low_behind, high_behind))
+    return True

@@ -69,9 +69,10 @@ def random_program(source, most_functions=4, most_calls=3):
     return Program([[source.randrange(count) for _ in range(source.randint(0, most_calls))] for _ in range(count)])
 
 
-def random_log(source, program, length, most=300):
-    """A log of both modes, with the sets that it makes of the original bodies."""
-    calls, sets, log = program.calls, [set() for _ in program.calls], []
+def random_log(source, program, length, most=300, start=None):
+    """A log of both modes, with the sets that it makes of the original bodies, or of others."""
+    calls, log = program.calls, []
+    sets = [set(paths) for paths in start or [()] * len(program)]
     for _ in range(length):
         steps = [(function, path, mode)
                  for function in range(len(calls))
@@ -317,3 +318,13 @@ def folded(calls, sets, group=()):
                     paths -= {path} | {path + other for other in part}
                     done = False
     return sets
+
+
+def skipped(calls, sets, log, indexes):
+    """The sets behind a log without some steps, and the indexes of the steps done: by the words of point [141]."""
+    sets, done = [set(paths) for paths in sets], []
+    for at, (function, path, mode) in enumerate(log):
+        if at not in indexes and path in open_paths(calls, function, sets[function]):
+            inline(calls, sets, function, path, mode)
+            done.append(at)
+    return sets, done

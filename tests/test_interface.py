@@ -58,6 +58,16 @@ FUNCTIONS = {
                   "history(releases)", "replay(program, versions, deeds)"],
     "meets": ["is_successor(upper, lower)", "between(lower, upper)", "meet(one, other)"],
     "joins": ["join_defect(parts)", "is_join_defect(parts, value)", "Join(parts)"],
+    "causes": ["causes(bodies, log)", "causes_of(bodies, log, function, path)"],
+    "skips": ["skipped(bodies, log, indexes)"],
+    "edits": ["edit_program(program, edit)", "edited(bodies, edit)", "moved_log(program, log, edit)"],
+    "targets": ["blocked_target(bodies, function, paths)", "reach_targets(bodies, function, paths)"],
+    "wants": ["ahead(program, wants, group)", "wants_defect(program, wants, group)",
+              "meet_wants(program, wants, group)"],
+    "below": ["below_defect(bodies)", "log_from_below(bodies)", "is_from_below(bodies, value)"],
+    "turns": ["turns(bodies)", "from_turns(program, turns)", "count_logs(bodies)", "apart(one, other)"],
+    "wheels": ["wheel_cycles(wheel)", "determinant(wheel)", "wheel_reachable(wheel)", "wheel_log(wheel)",
+               "after_wheel(count, log)"],
 }
 
 METHODS = {"programs": {"Program": ["__eq__", "__init__", "__len__"]},

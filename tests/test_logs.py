@@ -12,6 +12,14 @@ PROGRAM = Program([[1], [0, 1]])
 START = Bodies(PROGRAM)
 LOG = [(1, (0,), "now"), (0, (0,), "now"), (1, (1,), "first")]
 
+WRONG_STEPS = NO_INTEGERS + [0, list(LOG[0]), LOG[0][:2], LOG[0] + ("now",), ((0,), 0, "now"), ("now", (0,), 0)]
+WRONG_STEPS += [(0, (0,), mode) for mode in (None, True, 0, "", "Now", "later", "nowfirst", ["now"], ("now",), {})]
+WRONG_STEPS += [(0, path, "now") for path in (None, 0, "0", (), [], [0], (0,) * 2001, (-1,), (0, -1), {}, PROGRAM)]
+WRONG_STEPS += [(0, (value,), "now") for value in NO_INTEGERS] + [(0, (0, value), "now") for value in NO_INTEGERS]
+WRONG_STEPS += [(value, (0,), "now") for value in NO_INTEGERS + [-1, 8, HUGE]]
+WRONG_LOGS = NO_LISTS + [[(0, (0,), "now")] * 2001, ((0, (0,), "now"),) * 2001]
+WRONG_LOGS += [[step] for step in WRONG_STEPS] + [[(0, (0,), "now"), step] for step in WRONG_STEPS]
+
 
 class Examples(Case):
     def test_examples(self):
@@ -23,18 +31,8 @@ class Examples(Case):
 
 
 class Forms(Case):
-    def wrong_logs(self):
-        step = (0, (0,), "now")
-        wrong = NO_LISTS + [[step] * 2001, (step,) * 2001]
-        items = NO_INTEGERS + [0, list(step), (0, (0,)), step + ("now",), ((0,), 0, "now"), ("now", (0,), 0)]
-        items += [(0, (0,), mode) for mode in (None, True, 0, "", "Now", "later", "nowfirst", ["now"], ("now",), {})]
-        items += [(0, path, "now") for path in (None, 0, "0", (), [], [0], (0,) * 2001, (-1,), (0, -1), {}, PROGRAM)]
-        items += [(0, (value,), "now") for value in NO_INTEGERS] + [(0, (0, value), "now") for value in NO_INTEGERS]
-        items += [(value, (0,), "now") for value in NO_INTEGERS + [-1, 8, HUGE]]
-        return wrong + [[item] for item in items] + [[step, item] for item in items]
-
     def test_wrong_logs(self):
-        for given in self.wrong_logs():
+        for given in WRONG_LOGS:
             self.gives(InvalidLog, given, apply_log, START, given)
             self.gives(InvalidLog, given, fold_log, START, given)
             self.gives(InvalidLog, given, copied, START, given)
