@@ -67,10 +67,14 @@ def log_from_below(bodies):
 
 def _parts_from_below(program, cycling):
     """The components, and the other functions each by itself, those below ahead of the others."""
-    led = [all_led_to(program, function) for function in range(len(program))]
-    parts = list(cycling) + [[function] for function, row in enumerate(led) if function not in row]
-    # A function leads to all to which one below it leads, and to itself.
-    return [part for _, part in sorted([(len(set(led[part[0]] + part)), part) for part in parts])]
+    counted = []
+    for function in range(len(program)):
+        led = all_led_to(program, function)
+        # It leads to all to which one below it leads, and by the empty path to itself, as that one does not.
+        if function not in led:
+            counted.append((len(led) + 1, [function]))
+    counted.extend([(len(all_led_to(program, part[0])), part) for part in cycling])
+    return [part for _, part in sorted(counted)]
 
 
 def is_from_below(bodies, value):

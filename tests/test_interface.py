@@ -68,15 +68,33 @@ FUNCTIONS = {
     "turns": ["turns(bodies)", "from_turns(program, turns)", "count_logs(bodies)", "apart(one, other)"],
     "wheels": ["wheel_cycles(wheel)", "determinant(wheel)", "wheel_reachable(wheel)", "wheel_log(wheel)",
                "after_wheel(count, log)"],
+    "counts": ["count_wheels(count, inlined)", "count_staying(count, inlined, staying)",
+               "count_within(limits, bare)"],
+    "ties": ["wheel_kept(wheel, group)", "halves(wheel, group)", "smallest_groups(wheel)"],
+    "sums": ["is_sum(value)", "worth(given, names, cells)"],
+    "source": ["Source(functions)", "program_of(source)"],
+    "lines": ["lines(source)", "read_source(lines)"],
+    "machine": ["Run(source, function, worths, cells=(0, 0, 0, 0, 0, 0, 0, 0))"],
+    "flat": ["flat(source, bodies)"],
+    "opened": ["bracket_at(flat, function, position)", "plain_frames(flat, run)"],
+    "desk": ["Desk(source)"],
 }
 
 METHODS = {"programs": {"Program": ["__eq__", "__init__", "__len__"]},
            "bodies": {"Bodies": ["__eq__", "__init__", "size"]},
            "releases": {"Releases": ["__eq__", "__init__"]},
-           "joins": {"Join": ["__init__", "is_inlined", "lands", "bodies"]}}
+           "joins": {"Join": ["__init__", "is_inlined", "lands", "bodies"]},
+           "source": {"Source": ["__eq__", "__init__", "__len__"]},
+           "machine": {"Run": ["__init__", "step", "walk", "to_show", "shown", "cells", "steps", "ended", "too_deep",
+                               "worth", "frames"]},
+           "flat": {"Flat": ["__init__"]},
+           "desk": {"Desk": ["__init__", "source", "bodies", "flat", "inline", "fold", "run_pass", "skip", "undo",
+                             "redo", "journal"]}}
 
-ARGUMENTS = {"is_inlined": "(self, function, path)", "lands": "(self, function, path)", "bodies": "(self, most)",
-             "size": "(self)"}
+ARGUMENTS = {"Bodies.size": "(self)", "Join.is_inlined": "(self, function, path)", "Join.lands": "(self, function, path)",
+             "Join.bodies": "(self, most)", "Run.walk": "(self, most)", "Run.to_show": "(self, most)",
+             "Desk.inline": "(self, function, path, mode='now')", "Desk.fold": "(self, function, path)",
+             "Desk.run_pass": "(self, one)", "Desk.skip": "(self, indexes)"}
 
 
 class Interface(unittest.TestCase):
@@ -100,5 +118,6 @@ class Interface(unittest.TestCase):
                 held = vars(getattr(import_module(f"ringstays.{file}"), name))
                 for method in methods:
                     self.assertIn(method, held)
-                    if method in ARGUMENTS:
-                        self.assertEqual(str(inspect.signature(held[method])), ARGUMENTS[method])
+                    if not method.startswith("__"):
+                        told = ARGUMENTS.get(f"{name}.{method}", "(self)")
+                        self.assertEqual(str(inspect.signature(held[method])), told)
