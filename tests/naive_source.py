@@ -68,7 +68,8 @@ class Sampler:
         if len(functions) > self.left:
             return "show", random_sum(self.source)
         self.left -= len(functions)
-        return "choose", self.goal(), self.source.randrange(8), functions, [random_sum(self.source, 1) for _ in range(count)]
+        sums = [random_sum(self.source, 1) for _ in range(count)]
+        return "choose", self.goal(), self.source.randrange(8), functions, sums
 
 
 def worth(given, names, cells):
@@ -376,7 +377,8 @@ class NaiveFlat:
         """What stands for a row: rows with the number of the bracket, or ("in", another bracket, row)."""
         kind, inside = row[0], bracket is not self.top
         if kind == "give" and inside:
-            return [("set", self.made("gx", bracket), self.renamed(row[1], bracket)), ("set", self.made("mx", bracket), 1)]
+            return [("set", self.made("gx", bracket), self.renamed(row[1], bracket)),
+                    ("set", self.made("mx", bracket), 1)]
         if kind in ("show", "give"):
             return [(kind, self.renamed(row[1], bracket))]
         if kind in ("set", "store"):

@@ -165,7 +165,8 @@ class FromBelow(Case):
     def test_below_above_and_beside_a_cycle(self):
         # 1 and 2 call each other; 0 is above them, 3 below, and 4 beside them.
         program = Program([[1, 4], [2], [1, 3], [], [3]])
-        log = [(2, (0,), "now"), (2, (1,), "now"), (1, (0,), "now"), (4, (0,), "now"), (0, (0,), "now"), (0, (1,), "now")]
+        log = [(2, (0,), "now"), (2, (1,), "now"), (1, (0,), "now"), (4, (0,), "now"), (0, (0,), "now"),
+               (0, (1,), "now")]
         bodies = apply_log(Bodies(program), log)
         self.assertEqual(self.check(program, naive.sets_of(bodies)), "made")
         self.assertIs(is_from_below(bodies, log), True)
@@ -178,7 +179,8 @@ class FromBelow(Case):
 
     def test_self_calls_above_others(self):
         program = Program([[0, 1], [1, 2], []])
-        for sets in ([{(1,)}, set(), set()], [{(1,), (1, 1)}, {(1,)}, set()], [{(1,), (1, 1), (1, 0), (1, 0, 1)}, {(1,)}, set()]):
+        for sets in ([{(1,)}, set(), set()], [{(1,), (1, 1)}, {(1,)}, set()],
+                     [{(1,), (1, 1), (1, 0), (1, 0, 1)}, {(1,)}, set()]):
             self.assertEqual(self.check(program, sets), "made")
         self.assertEqual(self.check(program, [{(0,)}, set(), set()]), "unreachable")
         self.assertEqual(self.check(program, [{(1,)}, {(1,)}, set()]), "block")

@@ -55,7 +55,8 @@ class Errors(Case):
             self.raises(TooMany, {"count": count}, causes_of, Bodies(LOOP), loop_log(count), None, None)
         # A stop comes ahead of the number of steps, and what is no log ahead of both.
         stopped = loop_log(500) + [(0, (1,), "now")]
-        self.raises(Stopped, {"at": 500, "reached": apply_log(Bodies(LOOP), loop_log(500))}, causes, Bodies(LOOP), stopped)
+        self.raises(Stopped, {"at": 500, "reached": apply_log(Bodies(LOOP), loop_log(500))}, causes, Bodies(LOOP),
+                    stopped)
         wrong = stopped + [None]
         self.gives(InvalidLog, wrong, causes, Bodies(LOOP), wrong)
 
@@ -97,7 +98,8 @@ class Causes(Case):
                 copy = apply_log(bodies, ahead).inlined[reached] if mode == "now" else ()
                 for part in copy:
                     more = causes_of(bodies, ahead, reached, part)
-                    self.assertEqual(causes_of(bodies, upto, function, path + part), sorted(set(found[at] + [at] + more)))
+                    self.assertEqual(causes_of(bodies, upto, function, path + part),
+                                     sorted(set(found[at] + [at] + more)))
 
     def test_steps_that_copy_what_came_in_with_earlier_ones(self):
         program = Program([[1], [2], [3], []])

@@ -2,9 +2,9 @@ import random
 
 from ringstays.bodies import Bodies
 from ringstays.desk import Desk
-from ringstays.errors import HasFoldings, InlineError, InvalidFunction, InvalidIndexes, InvalidMode, InvalidPass, InvalidPath
-from ringstays.errors import LongName, NotInlined, NothingToRedo, NothingToUndo, NotOpen, NotPresent, SelfCall, TooMany
-from ringstays.errors import TooManyCalls, TooNested
+from ringstays.errors import HasFoldings, InlineError, InvalidFunction, InvalidIndexes, InvalidMode, InvalidPass
+from ringstays.errors import InvalidPath, LongName, NotInlined, NothingToRedo, NothingToUndo, NotOpen, NotPresent
+from ringstays.errors import SelfCall, TooMany, TooManyCalls, TooNested
 from ringstays.flat import flat
 from ringstays.lines import read_source
 from ringstays.logs import apply_log
@@ -170,7 +170,8 @@ class Desks(Case):
     def deed(self, source, desk, model):
         """Do something by chance at the desk, and what it is to do to the model."""
         bodies, journal = model.now()
-        kind = source.choice(["inline"] * 4 + ["first"] * 2 + ["fold", "pass", "pass", "skip", "undo", "undo", "redo", "redo"])
+        kind = source.choice(["inline"] * 4 + ["first"] * 2 + ["fold", "pass", "pass", "skip", "undo", "undo", "redo",
+                                                               "redo"])
         steps = inlinable(bodies)
         if kind in ("inline", "first") and steps and bodies.size() < 40:
             function, path = source.choice(steps)
@@ -226,7 +227,8 @@ class Desks(Case):
                 self.assertTrue(desk.source() == made)
                 self.check_flat(desk, made, bodies)
             self.check_journal(made, desk)
-        for kind in ("inline", "first", "fold", "pass", "idle", "skip", "skip nothing", "foldings", "undo", "redo", "no undo",
+        for kind in ("inline", "first", "fold", "pass", "idle", "skip", "skip nothing", "foldings", "undo", "redo",
+                     "no undo",
                      "no redo"):
             self.assertGreater(kinds.count(kind), 20, kind)
 

@@ -19,10 +19,12 @@ LOG = [(1, (0,), "now"), (0, (1,), "now"), (0, (1, 0, 0), "first")]
 STRIKE = ("strike", 0, 0)
 FULL = Program([[0] * 8, [1] * 7])
 
-WRONG_EDITS = NO_TUPLES + [(), ("add", 0), ("add", 0, 0, 0), ["add", 0, 0], ("add", 3, 0), ("add", 0, 3), ("add", -1, 0),
+WRONG_EDITS = NO_TUPLES + [(), ("add", 0), ("add", 0, 0, 0), ["add", 0, 0], ("add", 3, 0), ("add", 0, 3),
+                           ("add", -1, 0),
                            ("add", 0, -1), ("add", HUGE, 0), ("strike", 0, 2), ("strike", 1, 1), ("strike", 0, -1),
                            ("strike", 3, 0), ("strike", 0, HUGE), (0, 0, "add"), ("add", [0], 0), ("strike", 0, (0,))]
-WRONG_EDITS += [(kind, 0, 0) for kind in (None, True, 0, "", "Add", "addstrike", "stri", ["add"], ("add",), {}, PROGRAM)]
+WRONG_EDITS += [(kind, 0, 0) for kind in (None, True, 0, "", "Add", "addstrike", "stri", ["add"], ("add",), {},
+                                          PROGRAM)]
 WRONG_EDITS += [(kind, value, 0) for value in NO_INTEGERS for kind in ("add", "strike")]
 WRONG_EDITS += [(kind, 0, value) for value in NO_INTEGERS for kind in ("add", "strike")]
 

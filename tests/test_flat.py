@@ -81,17 +81,24 @@ class Errors(Case):
         self.assertEqual(flat(source(399, 0), Bodies(program_of(source(399, 0)))).source.functions[0][1][0], SHOW)
 
     def test_40_and_41_deep(self):
-        def source(outer, inner):
-            return Source([((), nested(outer, [("call", None, 1, [])])), ((), nested(inner, [SHOW]))])
-        for outer, inner, right in ((38, 1, True), (39, 0, True), (39, 1, False), (20, 19, True), (20, 20, False), (0, 39, True)):
-            one = source(outer, inner)
+        for outer, inner, right in ((38, 1, True), (39, 0, True), (39, 1, False), (20, 19, True), (20, 20, False),
+                                    (0, 39, True)):
+            for kind in ("times", "ask", "first"):
+                one = Source([((), nested(outer, [("call", None, 1, [])], kind)), ((), nested(inner, [SHOW], kind))])
+                bodies = Bodies(program_of(one), [[(0,)], []])
+                if right:
+                    rows = flat(one, bodies).source.functions[0][1]
+                    self.assertEqual(max(depth for _, depth in naive_source.in_text_order(rows)), 40)
+                else:
+                    self.raises(TooNested, {"function": 0}, flat, one, bodies)
+        # The asks that chooses and gives make count, too.
+        for outer, right in ((38, True), (39, False)):
+            one = Source([((), nested(outer, [("choose", None, 0, [1], [])])), ((), [])])
             bodies = Bodies(program_of(one), [[(0,)], []])
             if right:
-                self.assertEqual(max(depth for _, depth in naive_source.in_text_order(
-                    flat(one, bodies).source.functions[0][1])), 40)
+                self.assertEqual(len(flat(one, bodies).source), 2)
             else:
                 self.raises(TooNested, {"function": 0}, flat, one, bodies)
-        # The asks that gives make count, too.
         given = [("give", 1), SHOW]
         for rows, right in ((given, True), (nested(1, given), False), (nested(1, [SHOW]), True)):
             one = Source([((), nested(38, [("call", None, 1, [])])), ((), rows)])
@@ -104,7 +111,8 @@ class Errors(Case):
     def test_the_first_row_that_is_wrong(self):
         deep, wide = nested(39, [("call", None, 2, [])]), [("call", None, 1, [])]
         leaves = [((), [SHOW] * 400), ((), nested(1, [SHOW]))]
-        for rows, error in ((deep + wide, "TooNested"), (wide + deep, "TooMany"), ([SHOW] * 300 + deep + wide, "TooNested")):
+        for rows, error in ((deep + wide, "TooNested"), (wide + deep, "TooMany"),
+                            ([SHOW] * 300 + deep + wide, "TooNested")):
             source = Source([((), rows)] + leaves)
             program = program_of(source)
             bodies = Bodies(program, [[(0,), (1,)], [], []])
@@ -141,7 +149,8 @@ class Errors(Case):
         # Brackets with numbers of two signs make names longer.
         for length, right in ((37, True), (38, False)):
             name = "a" * length
-            source = Source([((), [("call", None, 1, [])] * 5), ((), [("call", None, 2, [])]), ((), [("set", name, 1)])])
+            source = Source([((), [("call", None, 1, [])] * 5), ((), [("call", None, 2, [])]),
+                             ((), [("set", name, 1)])])
             paths = [(call,) for call in range(5)] + [(call, 0) for call in range(5)]
             bodies = Bodies(program_of(source), [paths, [], []])
             if right:
@@ -153,7 +162,8 @@ class Errors(Case):
         names_told = ["abcd"[at] * 40 for at in range(4)]
         a, b, c, d = names_told
         for functions, name in (([((a, b), [("set", c, 1)])], a), ([(("x", b), [("set", c, 1)])], b),
-                                ([((), [SHOW, ("set", c, d), ("set", a, 1)])], c), ([((), [("set", "x", d), ("set", a, 1)])], d),
+                                ([((), [SHOW, ("set", c, d), ("set", a, 1)])], c),
+                                ([((), [("set", "x", d), ("set", a, 1)])], d),
                                 ([((), [("ask", ("add", b, a), [("set", c, 1)], [])])], b),
                                 ([((), [("ask", 1, [("set", c, 1)], [("set", d, 1)]), ("set", a, 1)])], c),
                                 ([((), [("ask", 1, [], [("set", d, 1)]), ("set", a, 1)])], d),
@@ -256,7 +266,8 @@ class FlatPrograms(Case):
             "  set ax0 = gx1y", "  show bx0"])
 
     def test_gives_of_number_0_stay(self):
-        texts = ["function 0", "  give 1", "  ask 1", "    give 2", "    show 1", "  else", "  end", "  times 2", "    give 3",
+        texts = ["function 0", "  give 1", "  ask 1", "    give 2", "    show 1", "  else", "  end", "  times 2",
+                 "    give 3",
                  "  end", "  show 2", "  call 0 ()", "end"]
         self.assertEqual(self.inlined(texts, [[]]), texts[1:-1])
 
@@ -269,17 +280,21 @@ class FlatPrograms(Case):
         self.assertEqual(told("  show 0", "  give 1", "  show 2"),
                          ["  show 0", "  " + given[0], "  " + given[1], "  ask mx1y", "  else", "    show 2", "  end"])
         self.assertEqual(told("  give 1", "  give 1", "  show 2"),
-                         ["  " + given[0], "  " + given[1], "  ask mx1y", "  else", "    " + given[0], "    " + given[1],
+                         ["  " + given[0], "  " + given[1], "  ask mx1y", "  else", "    " + given[0],
+                          "    " + given[1],
                           "    ask mx1y", "    else", "      show 2", "    end", "  end"])
         self.assertEqual(told("  ask 5", "    give 1", "  else", "    show 3", "  end", "  show 2"),
-                         ["  ask 5", "    " + given[0], "    " + given[1], "  else", "    show 3", "  end", "  ask mx1y",
+                         ["  ask 5", "    " + given[0], "    " + given[1], "  else", "    show 3", "  end",
+                          "  ask mx1y",
                           "  else", "    show 2", "  end"])
         self.assertEqual(told("  times 3", "    give 1", "    show 4", "  end"),
-                         ["  times 3", "    ask mx1y", "    else", "      " + given[0], "      " + given[1], "      ask mx1y",
+                         ["  times 3", "    ask mx1y", "    else", "      " + given[0], "      " + given[1],
+                          "      ask mx1y",
                           "      else", "        show 4", "      end", "    end", "  end"])
         self.assertEqual(told("  times 3", "    times 2", "      give 1", "    end", "  end", "  show 2"),
                          ["  times 3", "    ask mx1y", "    else", "      times 2", "        ask mx1y", "        else",
-                          "          " + given[0], "          " + given[1], "        end", "      end", "    end", "  end",
+                          "          " + given[0], "          " + given[1], "        end", "      end", "    end",
+                          "  end",
                           "  ask mx1y", "  else", "    show 2", "  end"])
         self.assertEqual(told("  times 3", "    show 4", "  end", "  show 2"),
                          ["  times 3", "    show 4", "  end", "  show 2"])
@@ -317,7 +332,8 @@ class FlatPrograms(Case):
             self.assertEqual(self.check_runs(source, found, 0, [7], [0, 0, 0, cell, 0, 0, 0, 0]), "ended")
 
     def test_chooses_behind_brackets(self):
-        texts = ["function 0", "  call 1 ()", "  choose 0 of 1 2 ()", "  choose 0 of 1 2 ()", "end", "function 1", "end",
+        texts = ["function 0", "  call 1 ()", "  choose 0 of 1 2 ()", "  choose 0 of 1 2 ()", "end", "function 1",
+                 "end",
                  "function 2", "  choose 0 of 1 ()", "end"]
         found = self.inlined(texts, [[(0,), (2,), (2, 0), (3,), (4,), (4, 0)], [], []])
         self.assertEqual([line.strip() for line in found if "kx" in line and "set" in line],

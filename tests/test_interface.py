@@ -91,7 +91,8 @@ METHODS = {"programs": {"Program": ["__eq__", "__init__", "__len__"]},
            "desk": {"Desk": ["__init__", "source", "bodies", "flat", "inline", "fold", "run_pass", "skip", "undo",
                              "redo", "journal"]}}
 
-ARGUMENTS = {"Bodies.size": "(self)", "Join.is_inlined": "(self, function, path)", "Join.lands": "(self, function, path)",
+ARGUMENTS = {"Bodies.size": "(self)", "Join.is_inlined": "(self, function, path)",
+             "Join.lands": "(self, function, path)",
              "Join.bodies": "(self, most)", "Run.walk": "(self, most)", "Run.to_show": "(self, most)",
              "Desk.inline": "(self, function, path, mode='now')", "Desk.fold": "(self, function, path)",
              "Desk.run_pass": "(self, one)", "Desk.skip": "(self, indexes)"}

@@ -15,17 +15,26 @@ RIGHT = ["set a = 12", "set ax1 = a", "store 3 = [3]", "show (a + 1)", "show (a 
          "show (a rest 1)", "show (rest rest rest)", "give ((a + 1) - ([7] * 65535))", "set set = set", "set end = 0",
          "call a = 1 ()", "call 1 ()", "call 0 (1, (a + 2))", "call x = 0 ([0], b)", "choose a = 2 of 1 ()",
          "choose 2 of 0 (a, b)", "choose function = 7 of 0 ((a + 1), [1])", "show 0"]
-WRONG = ["", " ", "set", "set a", "set a =", "set a = ", "set a  = 1", "set a = 1 ", "set a=1", "set A = 1", "set 1a = 1",
-         "set a = 01", "set a = 65536", "set a = -1", "set a = 1 + 2", "set a = (1 + 2", "set a = 1 + 2)", "set a = (1 +2)",
-         "set a = (1  + 2)", "set a = ( 1 + 2)", "set a = (1 + 2 )", "set a = (1 / 2)", "set a = (1 add 2)", "set a = ()",
-         "set a = (1)", "set a = [8]", "set a = [1", "set a = [ 1]", "set a = [01]", "set a = [a]", "set a = []", "set = 1",
+WRONG = ["", " ", "set", "set a", "set a =", "set a = ", "set a  = 1", "set a = 1 ", "set a=1", "set A = 1",
+         "set 1a = 1",
+         "set a = 01", "set a = 65536", "set a = -1", "set a = 1 + 2", "set a = (1 + 2", "set a = 1 + 2)",
+         "set a = (1 +2)",
+         "set a = (1  + 2)", "set a = ( 1 + 2)", "set a = (1 + 2 )", "set a = (1 / 2)", "set a = (1 add 2)",
+         "set a = ()",
+         "set a = (1)", "set a = [8]", "set a = [1", "set a = [ 1]", "set a = [01]", "set a = [a]", "set a = []",
+         "set = 1",
          "set a = b = 1", "set a_ = 1", "store 8 = 1", "store a = 1", "store 03 = 1", "store 1 1", "store = 1", "show",
-         "show 1 2", "show  1", "Show 1", "show 1\n", "show \u0661", "show 1\u00b2", "show a\u0663", "give", "give (a)", "gives 1",
+         "show 1 2", "show  1", "Show 1", "show 1\n", "show \u0661", "show 1\u00b2", "show a\u0663", "give", "give (a)",
+         "gives 1",
          "call", "call 1", "call 1 (", "call 1 )", "call 1()", "call 1 ( )", "call 1 (1)", "call 0 ()", "call 0 (1)",
-         "call 0 (1,2)", "call 0 (1 , 2)", "call 0 (1, 2, 3)", "call 0 (1, )", "call 0 (1, 2) ", "call 8 ()", "call -1 ()",
-         "call 01 ()", "call a 1 ()", "call a = b ()", "call = 1 ()", "call a = b = 1 ()", "call 1 () ()", "call A = 1 ()",
-         "choose 2 of ()", "choose 2 of 1", "choose of 1 ()", "choose 2 of 1  ()", "choose 2 of 1 1 ()", "choose 8 of 1 ()",
-         "choose 2 of 0 1 ()", "choose 2 of 0 1 (1, 2)", "choose 2 of 1 0 ()", "choose 2 of 2 3 4 5 ()", "choose 2 of 8 ()",
+         "call 0 (1,2)", "call 0 (1 , 2)", "call 0 (1, 2, 3)", "call 0 (1, )", "call 0 (1, 2) ", "call 8 ()",
+         "call -1 ()",
+         "call 01 ()", "call a 1 ()", "call a = b ()", "call = 1 ()", "call a = b = 1 ()", "call 1 () ()",
+         "call A = 1 ()",
+         "choose 2 of ()", "choose 2 of 1", "choose of 1 ()", "choose 2 of 1  ()", "choose 2 of 1 1 ()",
+         "choose 8 of 1 ()",
+         "choose 2 of 0 1 ()", "choose 2 of 0 1 (1, 2)", "choose 2 of 1 0 ()", "choose 2 of 2 3 4 5 ()",
+         "choose 2 of 8 ()",
          "choose a = 2 of 0 (a)", "choose a 2 of 1 ()", "choose 2 of of 1 ()", "choose 2 1 ()", "choose a = of 1 ()",
          "ask", "times", "ask a b", "times (a +)", "function 1", "nothing", "show " + "1" * 5000, "show " + "a" * 41,
          "show " + "(" * 500, "show " + "(" * 5000 + "a", "show (((a)))", "call 2 (1, 2, 3, 4, 5)",
@@ -85,7 +94,8 @@ class Reading(Case):
             place = source.randrange(len(line))
             told[at] = line[:place] + source.choice("01 9ab()[]+-=,x") + line[place + source.randint(0, 1):]
         elif kind == 6:
-            told.insert(at, source.choice(("end", "else", "  end", "  else", "    end", "function 1", "function 2 a", "")))
+            told.insert(at, source.choice(("end", "else", "  end", "  else", "    end", "function 1", "function 2 a",
+                                           "")))
         else:
             told.append(source.choice(("end", "function 9", "function " + str(told.count("end")), "  show 1")))
         return told
@@ -126,12 +136,15 @@ class Reading(Case):
                 self.bad(8, TEXT + [value])
 
     def test_heads(self):
-        for line in ("", "function", "function ", "function 0 ", "function  0", " function 0", "function 1", "function 00",
-                     "function 0 A", "function 0 a a", "function 0 a b c d e", "function 0 1", "function 0  a", "function 0 a ",
+        for line in ("", "function", "function ", "function 0 ", "function  0", " function 0", "function 1",
+                     "function 00",
+                     "function 0 A", "function 0 a a", "function 0 a b c d e", "function 0 1", "function 0  a",
+                     "function 0 a ",
                      "Function 0", "end", "else", "show 1", "  show 1", "function 0 a,b", "function 0 " + "a" * 41):
             self.bad(0, [line])
             self.bad(0, [line, "end"])
-        for line in ("function 0", "function 0 a", "function 0 a b c d", "function 0 function end rest", "function 0 " + "a" * 40):
+        for line in ("function 0", "function 0 a", "function 0 a b c d", "function 0 function end rest",
+                     "function 0 " + "a" * 40):
             self.assertEqual(lines(read_source([line, "end"])), [line, "end"])
             self.bad(1, [line])
             self.bad(1, [line, "function 1"])
@@ -181,7 +194,8 @@ class Reading(Case):
         self.bad(3, ["function 0 a", "  choose 0 of 0 1 (1)", "end", "function 1", "end"])
         self.bad(4, ["function 0", "end", "function 1", "  call 2 (1)", "  call 0 (1)"])
         self.bad(1, ["function 0", "  call 1 (1, 2, 3, 4, 5)", "end"])
-        self.assertEqual(len(read_source(["function 0", "  call 1 (1, 2, 3, 4)", "end", "function 1 a b c d", "end"])), 2)
+        self.assertEqual(len(read_source(["function 0", "  call 1 (1, 2, 3, 4)", "end", "function 1 a b c d", "end"])),
+                         2)
 
     def test_functions_that_are_missing(self):
         texts = ["function 0", "  call 3 (1)", "end"]
@@ -206,7 +220,8 @@ class Reading(Case):
         self.bad(41, deeper[:41])
         self.bad(41, deeper[:41] + ["  " * 41 + "show 1"])
         self.bad(41, deeper[:41] + ["  " * 40 + "else"])
-        self.assertEqual(len(lines(read_source(deeper[:41] + ["  " * depth + "end" for depth in range(40, -1, -1)]))), 82)
+        self.assertEqual(len(lines(read_source(deeper[:41] + ["  " * depth + "end" for depth in range(40, -1, -1)]))),
+                         82)
 
     def test_kinds_of_arguments(self):
         texts = list(TEXT)

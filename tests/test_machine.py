@@ -46,7 +46,8 @@ class Errors(Case):
             self.gives(InvalidFunction, function, Run, SOURCE, function, None, None)
 
     def test_wrong_worths(self):
-        for worths in NO_LISTS + [[], [1, 2], [-1], [65536], [HUGE], [[1]], [(1,)]] + [[value] for value in NO_INTEGERS]:
+        for worths in NO_LISTS + [[], [1, 2], [-1], [65536], [HUGE], [[1]],
+                                  [(1,)]] + [[value] for value in NO_INTEGERS]:
             self.gives(InvalidWorths, worths, Run, SOURCE, 0, worths)
             self.gives(InvalidWorths, worths, Run, SOURCE, 0, worths, None)
         for worths in ([0], [65535], (0,)):
@@ -159,7 +160,8 @@ class Runs(Case):
             self.assertEqual(run.walk(100), 1 + 2 * rounds + 1 + rounds + 1)
             self.assertEqual(run.shown(), [count] * rounds)
         run = Run(loop(("times", 2, [("show", 1), ("times", 1, [])]), ("show", 2)), 0, [])
-        self.assertEqual(positions(run), [(1, place) for place in ((0,), (0,), (0, 0), (0, 1), (0, 1), (0,), (0, 0), (0, 1),
+        self.assertEqual(positions(run), [(1, place) for place in ((0,), (0,), (0, 0), (0, 1), (0, 1), (0,), (0, 0),
+                                                                   (0, 1),
                                                                    (0, 1), (1,), (2,))])
 
     def test_the_worth_of_a_times_is_taken_once(self):
@@ -187,7 +189,8 @@ class Runs(Case):
             self.assertEqual([run.shown(), run.worth()], [[5, 6], 0])
 
     def test_calls_and_names(self):
-        source = Source([(("a", "b"), [("call", "a", 1, ["b", ("cell", 0)]), ("show", "a"), ("show", "c"), ("show", "b")]),
+        source = Source([(("a", "b"), [("call", "a", 1, ["b", ("cell", 0)]), ("show", "a"), ("show", "c"),
+                                       ("show", "b")]),
                          (("b", "c"), [("set", "a", 9), ("store", 0, ("add", "b", "c")), ("give", ("sub", "b", "c"))])])
         run = Run(source, 0, [4, 65535], [7] + [0] * 7)
         self.assertEqual(run.walk(2), 2)
@@ -205,7 +208,8 @@ class Runs(Case):
                 self.assertEqual(run.shown(), [cell % count])
 
     def test_200_frames_and_a_201st(self):
-        source = Source([(("a",), [("set", "b", "a"), ("call", "b", 0, [("add", "a", 1)]), ("show", "b"), ("give", 5)])])
+        source = Source([(("a",), [("set", "b", "a"), ("call", "b", 0, [("add", "a", 1)]), ("show", "b"),
+                                   ("give", 5)])])
         run = Run(source, 0, [1])
         self.assertEqual([run.walk(20000), len(run.frames()), run.too_deep(), run.ended()], [399, 200, True, False])
         kept = told(run)

@@ -12,8 +12,10 @@ from tests import naive_source
 from tests.cases import HUGE, NO_INTEGERS, NO_TUPLES, Case
 from tests.test_flat import samples
 
-TEXT = ["function 0", "  call b = 1 (5)", "  choose 3 of 1 2 (b)", "end", "function 1 a", "  show a", "  call 2 (a)", "end",
-        "function 2 a", "  times 2", "    ask a", "      show gx1y", "    else", "      give a", "    end", "  end", "end"]
+TEXT = ["function 0", "  call b = 1 (5)", "  choose 3 of 1 2 (b)", "end", "function 1 a", "  show a", "  call 2 (a)",
+        "end",
+        "function 2 a", "  times 2", "    ask a", "      show gx1y", "    else", "      give a", "    end", "  end",
+        "end"]
 SOURCE = read_source(TEXT)
 FLAT = flat(SOURCE, Bodies(program_of(SOURCE), [[(0,), (0, 0), (1,)], [(0,)], []]))
 
@@ -92,7 +94,8 @@ class Brackets(Case):
         self.assertGreaterEqual(found, {0, 1, 2, 3})
 
     def test_which_rows_are_of_a_bracket(self):
-        source = read_source(["function 0 a", "  call b = 1 (a)", "  choose 0 of 1 (a)", "end", "function 1 a", "  show c", "end"])
+        source = read_source(["function 0 a", "  call b = 1 (a)", "  choose 0 of 1 (a)", "end", "function 1 a",
+                              "  show c", "end"])
         told = flat(source, Bodies(program_of(source), [[(0,), (1,)], []]))
         rows = told.source.functions[0][1]
         self.assertEqual([(row[0], bracket_at(told, 0, (at,))) for at, row in enumerate(rows)],
@@ -106,7 +109,8 @@ class Frames(Case):
         """The frames of the plain run, those with names like written ones among them."""
         source = Source([(("ax1", "gx1y"), [("call", "mx1", 1, ["ax1", 3]), ("show", "mx1")]),
                          (("gx1y", "a"), [("set", "kx", 4), ("call", "ax1", 2, ["gx1y"]), ("give", "ax1")]),
-                         (("gx",), [("set", "x1", 7), ("set", "ax2", 0), ("show", "gx"), ("give", ("add", "gx", "x1"))])])
+                         (("gx",), [("set", "x1", 7), ("set", "ax2", 0), ("show", "gx"),
+                                    ("give", ("add", "gx", "x1"))])])
         bodies = Bodies(program_of(source), [[(0,), (0, 0)], [(0,)], []])
         told = flat(source, bodies)
         plain, run = Run(source, 0, [1, 2]), Run(told.source, 0, [1, 2])

@@ -10,12 +10,15 @@ from tests.test_sums import NO_NAMES, WRONG_SUMS, deep
 CALL = ("call", None, 0, ())
 RIGHT_ROWS = [("set", "a", 1), ("store", 0, "a"), ("store", 7, ("cell", 7)), ("show", deep(8)), ("give", 65535),
               ("ask", "a", [], []), ("ask", "a", [("show", 1)], ()), ("times", 3, []), ("times", 3, (("give", 1),)),
-              ("call", None, 0, []), ("call", "a" * 40, 0, ()), ("choose", None, 0, [0], []), ("choose", "b", 7, (0,), ())]
+              ("call", None, 0, []), ("call", "a" * 40, 0, ()), ("choose", None, 0, [0], []),
+              ("choose", "b", 7, (0,), ())]
 NO_CELLS = NO_INTEGERS + [-1, 8, HUGE]
 NO_NAMES_HERE = NO_NAMES + [value for value in NO_INTEGERS if not isinstance(value, str)] + [0, 1, HUGE]
 
-WRONG_ROWS = NO_TUPLES + [(), ("set",), ("set", "a"), ("set", "a", 1, 1), ["set", "a", 1], ("sets", "a", 1), ("", "a", 1),
-                          (None, "a", 1), (["set"], "a", 1), ("store", 0), ("store", 0, 1, 1), ("show",), ("show", 1, 1),
+WRONG_ROWS = NO_TUPLES + [(), ("set",), ("set", "a"), ("set", "a", 1, 1), ["set", "a", 1], ("sets", "a", 1),
+                          ("", "a", 1),
+                          (None, "a", 1), (["set"], "a", 1), ("store", 0), ("store", 0, 1, 1), ("show",),
+                          ("show", 1, 1),
                           ("give",), ("give", 1, 1), ("ask", 1), ("ask", 1, []), ("ask", 1, [], [], []), ("times", 1),
                           ("times", 1, [], []), ("call", None, 0), ("call", None, 0, [], []), ("call", 0, []),
                           ("choose", None, 0, [0]), ("choose", None, 0, [0], [], []), ("choose", None, 0, [], []),
@@ -25,10 +28,12 @@ WRONG_ROWS += [("set", name, 1) for name in NO_NAMES_HERE] + [("store", cell, 1)
 WRONG_ROWS += [(kind, value) for value in WRONG_SUMS[::3] for kind in ("show", "give")]
 WRONG_ROWS += [(kind, goal, value) for value in WRONG_SUMS[::3] for kind, goal in (("set", "a"), ("store", 1))]
 WRONG_ROWS += [("ask", deep(9), [], []), ("times", deep(9), []), ("show", deep(9)), ("set", "a", deep(9))]
-WRONG_ROWS += [("ask", value, [], []) for value in WRONG_SUMS[::5]] + [("times", value, []) for value in WRONG_SUMS[::5]]
+WRONG_ROWS += [("ask", value, [], []) for value in WRONG_SUMS[::5]] + [("times", value,
+                                                                        []) for value in WRONG_SUMS[::5]]
 WRONG_ROWS += [("ask", 1, value, []) for value in NO_LISTS] + [("ask", 1, [], value) for value in NO_LISTS]
 WRONG_ROWS += [("times", 1, value) for value in NO_LISTS] + [("times", 1, [value]) for value in NO_TUPLES]
-WRONG_ROWS += [("ask", 1, [], [value]) for value in NO_TUPLES] + [("ask", 1, [("show", 1), value], []) for value in NO_TUPLES]
+WRONG_ROWS += [("ask", 1, [], [value]) for value in NO_TUPLES] + [("ask", 1, [("show", 1), value],
+                                                                   []) for value in NO_TUPLES]
 WRONG_ROWS += [("call", name, 0, []) for name in NO_NAMES_HERE if name is not None]
 WRONG_ROWS += [("choose", name, 0, [0], []) for name in NO_NAMES_HERE if name is not None]
 WRONG_ROWS += [("call", None, value, []) for value in NO_INTEGERS + [-1, 1, 8, HUGE]]
@@ -42,7 +47,7 @@ def nested(depth, inner=(), kind="times"):
     """One row of this depth within others, with some rows within it."""
     rows = list(inner)
     for _ in range(depth):
-        rows = [("times", 1, rows)] if kind == "times" else [("ask", 1, [], rows)]
+        rows = [{"times": ("times", 1, rows), "ask": ("ask", 1, [], rows), "first": ("ask", 1, rows, [])}[kind]]
     return rows
 
 
@@ -69,8 +74,10 @@ class Errors(Case):
 
     def test_wrong_items(self):
         good = (("a",), [("show", "a")])
-        items = NO_TUPLES + [(), ((),), ((), [], []), [(), []], ([], []), (["a"], []), ("a", []), (None, []), ((), None),
-                             (("a", "a"), []), (("a", "b", "c", "d", "e"), []), ((), ("show", 1)), ((), ["show 1"]), (0, [])]
+        items = NO_TUPLES + [(), ((),), ((), [], []), [(), []], ([], []), (["a"], []), ("a", []), (None, []),
+                             ((), None),
+                             (("a", "a"), []), (("a", "b", "c", "d", "e"), []), ((), ("show", 1)), ((), ["show 1"]),
+                             (0, [])]
         items += [((name,), []) for name in NO_NAMES_HERE] + [((), value) for value in NO_LISTS]
         items += [((), [("show", 1)] * 401), ((), [None])]
         for item in items:
@@ -96,6 +103,9 @@ class Errors(Case):
         self.assertEqual(len(Source([(("a", "b"), [choose]), (("c", "d"), [call[:3] + ([1, 2],)])])), 2)
         self.bad(1, [((), []), (("a", "b"), [("call", None, 1, [1, 2, 3])])])
 
+    def test_four_names(self):
+        self.assertEqual(len(Source([(("a", "b", "c", "d" * 40), [])])), 1)
+
     def test_functions_that_are_not_there(self):
         self.bad(0, [((), [("call", None, 1, [])])])
         self.bad(1, [((), []), ((), [("choose", None, 0, [0, 1, 3], [])]), ((), [None])])
@@ -113,7 +123,7 @@ class Errors(Case):
                 self.bad(1, [((), [show]), ((), rows)])
 
     def test_40_deep(self):
-        for kind in ("times", "ask"):
+        for kind in ("times", "ask", "first"):
             self.assertEqual(len(Source([((), nested(40, kind=kind))])), 1)
             self.assertEqual(len(Source([((), nested(39, [("show", 1)], kind))])), 1)
             self.bad(0, [((), nested(41, kind=kind))])

@@ -12,15 +12,19 @@ NO_WORTHS = [value for value in NO_INTEGERS if not isinstance(value, str)] + [-1
 NO_NAMES = ["", "1", "1a", "A", "aB", "a_", "a b", " a", "a ", "a\n", "a-b", LONG + "a", "\u00e4", "a\u0663", "\u0430",
             "a\u00b2", "a" * 1000, "[3]", "a,"]
 WRONG_SUMS = NO_NAMES + NO_WORTHS + [("cell", 8), ("cell", -1), ("cell", HUGE), ["cell", 1], ("cell",), ("cell", 1, 1),
-                                     ("cells", 1), ("cell", (1,)), ("add", 1), ("add", 1, 2, 3), ["add", 1, 2], (1, "add", 2),
-                                     ("Add", 1, 2), ("div", 1, 2), ("", 1, 2), (None, 1, 2), (("add",), 1, 2), (["add"], 1, 2),
-                                     ("add", [1], 2), ("add", 1, ["cell", 1]), (1,), (1, 2), ({}, 1, 2), (Program([[]]), 1, 2),
+                                     ("cells", 1), ("cell", (1,)), ("add", 1), ("add", 1, 2, 3), ["add", 1, 2],
+                                     (1, "add", 2),
+                                     ("Add", 1, 2), ("div", 1, 2), ("", 1, 2), (None, 1, 2), (("add",), 1, 2),
+                                     (["add"], 1, 2),
+                                     ("add", [1], 2), ("add", 1, ["cell", 1]), (1,), (1, 2), ({}, 1, 2),
+                                     (Program([[]]), 1, 2),
                                      ("cell", "a"), (0, 1), ("less", "A", 1), ("rest", 65536, 1), ("add",) * 3 + (1,)]
 WRONG_SUMS += [("cell", value) for value in NO_INTEGERS] + [("mul", value, 1) for value in NO_WORTHS]
 WRONG_SUMS += [("mul", 1, value) for value in NO_WORTHS + NO_NAMES]
 WRONG_CELLS = NO_LISTS + [[], CELLS[:7], CELLS + [0], [65536] + CELLS[1:], [-1] + CELLS[1:], [[0]] + CELLS[1:]]
 WRONG_CELLS += [CELLS[:7] + [value] for value in NO_INTEGERS + [HUGE]]
-WRONG_NAMES = [value for value in NO_INTEGERS if not isinstance(value, dict)] + [[("a", 1)], {"A": 1}, {"": 1}, {"1a": 1}]
+WRONG_NAMES = [value for value in NO_INTEGERS if not isinstance(value, dict)] + [[("a", 1)], {"A": 1}, {"": 1},
+                                                                                 {"1a": 1}]
 WRONG_NAMES += [{"a": 1, "b": value} for value in NO_INTEGERS + [-1, 65536, HUGE]] + [{name: 1} for name in NO_NAMES]
 
 
@@ -41,7 +45,8 @@ class Examples(Case):
 
 class Sums(Case):
     def test_right_and_wrong_sums(self):
-        right = [0, 65535, "a", "z9", LONG, "a0123456789", "cell", "add", "rest", ("cell", 0), ("cell", 7), ("add", 1, 2),
+        right = [0, 65535, "a", "z9", LONG, "a0123456789", "cell", "add", "rest", ("cell", 0), ("cell", 7),
+                 ("add", 1, 2),
                  ("sub", "a", ("cell", 3)), ("mul", ("mul", 1, 2), "b"), ("less", 0, 0), ("rest", "rest", "add")]
         for value in right:
             self.assertIs(is_sum(value), True)
@@ -79,9 +84,11 @@ class Sums(Case):
         self.gives(InvalidSum, None, worth, None, None, None)
 
     def test_worths(self):
-        for one, other, told in ((65535, 1, (0, 65534, 65535, 0, 0)), (0, 0, (0, 0, 0, 0, 0)), (0, 1, (1, 65535, 0, 1, 0)),
+        for one, other, told in ((65535, 1, (0, 65534, 65535, 0, 0)), (0, 0, (0, 0, 0, 0, 0)),
+                                 (0, 1, (1, 65535, 0, 1, 0)),
                                  (7, 7, (14, 0, 49, 0, 0)), (3, 0, (3, 3, 0, 0, 0)), (9, 4, (13, 5, 36, 0, 1)),
-                                 (65535, 65535, (65534, 0, 1, 0, 0)), (256, 256, (512, 0, 0, 0, 0)), (4, 9, (13, 65531, 36, 1, 4))):
+                                 (65535, 65535, (65534, 0, 1, 0, 0)), (256, 256, (512, 0, 0, 0, 0)),
+                                 (4, 9, (13, 65531, 36, 1, 4))):
             kinds = ("add", "sub", "mul", "less", "rest")
             self.assertEqual(tuple(worth((kind, one, other), {}, CELLS) for kind in kinds), told)
             self.assertEqual(tuple(worth((kind, "a", "b"), {"a": one, "b": other}, CELLS) for kind in kinds), told)

@@ -16,7 +16,8 @@ def around(count):
     return (0,) * count
 
 
-WRONG_TARGETS = NO_LISTS + [[], [(0,)] * 7, [()], [(0,), ()], [(1,)], [(0,), (0, 1)], [(-1,)], [(HUGE,)], [[0]], [[(0,)]],
+WRONG_TARGETS = NO_LISTS + [[], [(0,)] * 7, [()], [(0,), ()], [(1,)], [(0,), (0, 1)], [(-1,)], [(HUGE,)], [[0]],
+                            [[(0,)]],
                             (0,), [around(13)], [around(12), (0,)], [around(7), around(6)], [(0,), around(2001)]]
 WRONG_TARGETS += [[value] for value in NO_TUPLES] + [[(value,)] for value in NO_INTEGERS]
 
@@ -149,7 +150,8 @@ class Targets(Case):
         # Eight paths that no target takes are copied again and again.
         program = complete(2)
         for count in range(9):
-            sets = [{(0,) * length for length in range(1, count + 1)}, {(1,) * length for length in range(1, 9 - count)}]
+            sets = [{(0,) * length for length in range(1, count + 1)},
+                    {(1,) * length for length in range(1, 9 - count)}]
             for path in ((1, 0) * 4, (1, 1, 0, 0, 1, 0, 1, 0), (1,) * 8):
                 self.check(program, sets, 0, [path])
 

@@ -94,7 +94,8 @@ class Errors(Case):
             self.raises(NotTwo, {"count": 3}, ask, bad)
 
     def test_other_programs(self):
-        for one, other in ((Bodies(PAIR), Bodies(PROGRAM)), (BAD, Bodies(OTHERS[0])), (Bodies(OTHERS[1]), Bodies(PAIR))):
+        for one, other in ((Bodies(PAIR), Bodies(PROGRAM)), (BAD, Bodies(OTHERS[0])),
+                           (Bodies(OTHERS[1]), Bodies(PAIR))):
             self.assertIs(self.raises(OtherProgram, {"other": other}, apart, one, other).other, other)
 
     def test_unreachable(self):
@@ -142,7 +143,8 @@ class Errors(Case):
         # What is wrong about a later turn or path comes behind it, but not the form of the same turn.
         self.raises(TooMany, {"count": 2401}, from_turns, program, more + [None])
         self.raises(TooMany, {"count": 2401}, from_turns, program, [more[0], (1, [(1,), (1, 0)])])
-        for wrong in ([more[0], (1, [(1,), (2,)])], [(0, [(0,), (0, 1)]), more[1]], [more[0], (1, [(0,), (1,)])]):
+        for wrong in ([more[0], (1, [(1,), (2,)])], [more[0], (1, [(1,), (1,)])], [(0, [(0,), (0, 1)]), more[1]],
+                      [more[0], (1, [(0,), (1,)])]):
             self.gives(InvalidTurns, wrong, from_turns, program, wrong)
 
 
@@ -171,7 +173,8 @@ class Turns(Case):
                 self.assertEqual(told, right)
 
     def test_apart(self):
-        for calls, most, more in (([[1, 1], [0]], 4, 7), ([[1, 0], [0]], 4, 7), ([[1], [0]], 6, 9), ([[1, 1], [1]], 4, 6)):
+        for calls, most, more in (([[1, 1], [0]], 4, 7), ([[1, 0], [0]], 4, 7), ([[1], [0]], 6, 9),
+                                  ([[1, 1], [1]], 4, 6)):
             program = Program(calls)
             graph = naive_bodies.successors(calls, more)
             small = [sets for sets in graph if sum(map(len, sets)) <= most]
@@ -191,7 +194,8 @@ class Turns(Case):
                     first, second = turns(one), turns(other)
                     upper = self.begins(first, second)
                     self.assertIs(is_successor(one, other), upper)
-                    close = len(first) == len(second) > 0 and first[:-1] == second[:-1] and first[-1][0] == second[-1][0]
+                    close = len(first) == len(second) > 0 and first[:-1] == second[:-1]
+                    close = close and first[-1][0] == second[-1][0]
                     told.append(upper or self.begins(second, first) or close)
                     self.assertIs(join_defect([one, other]) is None, told[-1])
         self.assertGreater(min(told.count(True), told.count(False)), 50)
@@ -215,7 +219,8 @@ class Turns(Case):
             self.assertEqual(from_turns(program, found), bodies)
             self.assertEqual(from_turns(program, tuple((function, tuple(paths)) for function, paths in found)), bodies)
             self.assertEqual(apart(bodies, other), apart(other, bodies))
-            self.assertEqual([apart(bodies, bodies), apart(bodies, Bodies(program))], [0, sum(len(p) for _, p in found)])
+            self.assertEqual([apart(bodies, bodies), apart(bodies, Bodies(program))],
+                             [0, sum(len(p) for _, p in found)])
 
     def test_large_counts(self):
         program = Program([[1] * 8, [1] * 8])

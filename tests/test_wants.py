@@ -173,7 +173,8 @@ class Wants(Case):
         mutual = complete(3)
         wants = [[(1, 0)], [(0, 1)], [(2,)]]
         # All that is just enough, and all functions.
-        self.assertEqual([self.check(mutual, wants, group) for group in ([], [0], [0, 1], [2], [0, 2], [1, 2], [0, 1, 2])],
+        self.assertEqual([self.check(mutual, wants, group) for group in ([], [0], [0, 1], [2], [0, 2], [1, 2],
+                                                                         [0, 1, 2])],
                          ["self", "self", "self", "cycle", "met", "met", "met"])
         for wants in product([[], [(0,)], [(0, 0)], [(0, 1)], [(1, 0)]], repeat=2):
             self.assertEqual(self.check(complete(2), list(wants), [0, 1]), "met")

@@ -15,7 +15,8 @@ BIG = 10 ** 30
 ASKED = [wheel_cycles, determinant, wheel_reachable, wheel_log]
 WRONG_WHEELS = NO_LISTS + [[], [1] * 13, [0], [1, 0], [-1], [BIG + 1], [1, HUGE], [[1]], [(1,)], (1, 0)]
 WRONG_WHEELS += [[value] for value in NO_INTEGERS] + [[1, value] for value in NO_INTEGERS]
-WRONG_LOGS = NO_LISTS + [[(0, 1)] * 101, [(2, 1)], [(-1, 1)], [(0, 0)], [(0, -1)], [(0, BIG + 1)], [(0, HUGE)], [[0, 1]],
+WRONG_LOGS = NO_LISTS + [[(0, 1)] * 101, [(2, 1)], [(-1, 1)], [(0, 0)], [(0, -1)], [(0, BIG + 1)], [(0, HUGE)],
+                         [[0, 1]],
                          [(0,)], [(0, 1, 1)], [(0, (1,))], [(0, 1), None], (0, 1), [(HUGE, 1)]]
 WRONG_LOGS += [[value] for value in NO_TUPLES] + [[(value, 1)] for value in NO_INTEGERS]
 WRONG_LOGS += [[(0, value)] for value in NO_INTEGERS]
