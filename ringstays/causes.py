@@ -35,7 +35,7 @@ def causes_along(bodies, log):
         row[path] = ahead | bit_of(at)
         # Who inlines with the present body has another function for its callee, and so another row.
         copy = rows[led_to(bodies.program, function, path)] if mode == "now" else {}
-        for part, more in copy.items():
+        for part, more in list(copy.items()):
             row[path + part] = row[path] | more
     return found, rows
 

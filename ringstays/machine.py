@@ -40,15 +40,17 @@ class Frame:
 
     def go_on(self):
         """Go behind the row at hand."""
-        self.levels[-1].at += 1
+        level = self.levels[-1]
+        level.at += 1
         self._leave_ended()
 
     def _leave_ended(self):
         # A level that is left ends a round of a times, which stays at hand while rounds are left.
         while len(self.levels) > 1 and self.next_row() is None:
             self.levels.pop()
-            if self.levels[-1].rounds == 0:
-                self.levels[-1].at += 1
+            level = self.levels[-1]
+            if level.rounds == 0:
+                level.at += 1
 
 
 class Run:
@@ -197,7 +199,8 @@ class Run:
     def _do_plain(self, row):
         """Do a row that only sets, stores or shows."""
         if row[0] == "set":
-            self._stack[-1].names[row[1]] = self._worth_of(row[2])
+            names = self._stack[-1].names
+            names[row[1]] = self._worth_of(row[2])
         elif row[0] == "store":
             self._cells[row[1]] = self._worth_of(row[2])
         else:

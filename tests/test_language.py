@@ -183,6 +183,24 @@ def wrong_powers(tree):
                   and not (isinstance(node.right, ast.Constant) and 0 <= node.right.value <= 64))
 
 
+def far_attributes(tree):
+    """The lines that assign an attribute otherwise than through a name (L18)."""
+    return sorted(node.lineno for node in ast.walk(tree) if isinstance(node, ast.Attribute)
+                  and not isinstance(node.ctx, ast.Load) and not isinstance(node.value, ast.Name))
+
+
+def methods_as_attributes(tree):
+    """The lines of classes of which a method has the name of an attribute that they assign (L18)."""
+    found = []
+    for node in ast.walk(tree):
+        if isinstance(node, ast.ClassDef):
+            methods = {row.name for row in node.body if isinstance(row, ast.FunctionDef)}
+            assigned = {inner.attr for inner in ast.walk(node) if isinstance(inner, ast.Attribute)
+                        and not isinstance(inner.ctx, ast.Load) and ast.unparse(inner.value) == "self"}
+            found += [node.lineno] * len(methods & assigned)
+    return sorted(found)
+
+
 def bound_names(tree):
     """All names that are bound anywhere in a file, with the nodes that bind them."""
     for node in ast.walk(tree):
@@ -348,6 +366,12 @@ JUDGED = [
     (wrong_defaults,
      ["def f(a=1, *, b=None, c=(), d=(0, -1), e=LIMIT): pass", "f(lambda a: a)"],
      ["def f(a=[]): pass", "def f(*, a={}): pass", "def f(a=g()): pass", "def f(a=(1, [])): pass"]),
+    (far_attributes,
+     ["self.a = 1", "self.a[0] = 1", "self.a.b[c] += 1", "a.b, c = d", "self.a.b.append(1)", "a = b.c.d"],
+     ["self.a.b = 1", "self.a[0].b += 1", "f().a = 1", "a[0].b, c = d", "for a.b.c in d: pass", "del a.b.c"]),
+    (methods_as_attributes,
+     ["class A:\n def b(self):\n  self.c = self.b()", "class A:\n def b(self, d):\n  d.b = 1"],
+     ["class A:\n def b(self):\n  self.b = 1", "class A:\n def b(self): pass\n def c(self):\n  self.d, self.b = 1, 2"]),
     (wrong_powers, ["b = 2 ** 16", "b = a ** 2"], ["b = 2 ** a", "b = 2 ** 65", "b = 2 ** (1 + 1)"]),
 ]
 
